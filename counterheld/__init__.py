@@ -1,0 +1,1 @@
+"""Counterheld: scores held short, and every question asked of the short score."""

@@ -1,0 +1,5 @@
+"""The error under which all errors of the package stand."""
+
+
+class ScoreError(ValueError):
+    """The base of all errors of the package."""

@@ -1,0 +1,194 @@
+"""The subset of Python that the files of the package keep to, as far as it can be seen in single files."""
+
+import ast
+import re
+import unittest
+from pathlib import Path
+
+FOLDER = Path(__file__).resolve().parent.parent / "counterheld"
+FILES = sorted(FOLDER.glob("*.py"))
+LIBRARY = {
+    "heapq": {"heappush", "heappop", "heapify", "heapreplace", "heappushpop"},
+    "math": {"gcd", "lcm", "isqrt", "comb", "perm", "factorial"},
+}
+BUILTINS = set(
+    "len range enumerate zip min max sum abs sorted reversed int str bool list tuple dict set isinstance ord repr any all "
+    "divmod ValueError KeyError NotImplementedError".split()
+)
+METHODS = set(
+    "append clear copy count endswith extend find get index insert isalnum isalpha isdigit islower isspace isupper items "
+    "join keys ljust lower lstrip partition pop remove replace reverse rfind rjust rpartition rsplit rstrip setdefault "
+    "split splitlines startswith strip update upper values zfill bit_length".split()
+)
+NODES = (
+    ast.Module, ast.Expr, ast.Constant, ast.Name, ast.Load, ast.Store, ast.Del, ast.alias, ast.ImportFrom, ast.ClassDef,
+    ast.FunctionDef, ast.arguments, ast.arg, ast.Assign, ast.AugAssign, ast.Return, ast.If, ast.While, ast.For, ast.Break,
+    ast.Continue, ast.Pass, ast.Raise, ast.Try, ast.ExceptHandler, ast.Delete, ast.Call, ast.keyword, ast.Attribute,
+    ast.Subscript, ast.Slice, ast.Tuple, ast.List, ast.Dict, ast.ListComp, ast.DictComp, ast.comprehension, ast.Lambda,
+    ast.IfExp, ast.BoolOp, ast.And, ast.Or, ast.UnaryOp, ast.Not, ast.USub, ast.BinOp, ast.Add, ast.Sub, ast.Mult,
+    ast.FloorDiv, ast.Mod, ast.Pow, ast.Compare, ast.Eq, ast.NotEq, ast.Lt, ast.LtE, ast.Gt, ast.GtE, ast.Is, ast.IsNot,
+    ast.In, ast.NotIn, ast.JoinedStr, ast.FormattedValue, ast.Starred,
+)
+INTERFACE = {
+    "errors": ["ScoreError"],
+    "tones": ["steps", "height", "added", "opposite", "between", "inverted", "simple", "spellings"],
+    "names": ["BadName", "tone_name", "interval_name", "read_tone", "read_interval"],
+    "keys": ["BadKey", "scale", "degree", "key_name", "tone_of"],
+    "fractions": ["fraction", "sum_of", "difference", "product", "is_less", "common_grid"],
+    "columns": ["BadColumn", "check_bar", "raised", "turned", "paced", "exchanged", "notes"],
+    "bartexts": ["BadText", "bar_text", "read_bar"],
+    "scores": ["BadScore", "Score", "TooLong"],
+    "scoretexts": ["BadScoreText", "score_text", "read_score"],
+    "moments": ["written", "NoColumn", "NoMoment", "column", "moment_of", "column_at", "columns", "grid"],
+}
+ARGUMENTS = {
+    "steps": "interval", "height": "interval", "added": "one other", "opposite": "interval", "between": "one other",
+    "inverted": "interval", "simple": "interval", "spellings": "number most", "tone_name": "tone",
+    "interval_name": "interval", "read_tone": "text", "read_interval": "text", "scale": "key octave", "degree": "key tone",
+    "key_name": "key", "tone_of": "key degree signs octave", "fraction": "n d", "sum_of": "one other",
+    "difference": "one other", "product": "one other", "is_less": "one other", "common_grid": "fractions",
+    "check_bar": "columns", "raised": "bar interval", "turned": "bar total", "paced": "bar by", "exchanged": "bar order",
+    "notes": "bar voice", "bar_text": "bar", "read_bar": "text", "score_text": "score", "read_score": "text",
+    "written": "score", "column": "score number", "moment_of": "score number", "column_at": "score moment",
+    "columns": "score first stop", "grid": "score",
+}
+
+
+def functions_in(tree):
+    return [node for node in ast.walk(tree) if isinstance(node, (ast.FunctionDef, ast.Lambda))]
+
+
+def arguments_of(function):
+    return [argument.arg for argument in function.args.args]
+
+
+class Language(unittest.TestCase):
+    def each(self):
+        texts = [(file, file.read_text(encoding="utf-8")) for file in FILES]
+        return [(file, text, ast.parse(text)) for file, text in texts]
+
+    def test_folder(self):
+        self.assertTrue(FILES)
+        others = [path.name for path in FOLDER.iterdir() if path not in FILES and path.name != "__pycache__"]
+        self.assertEqual([], others)
+        for file in FILES:
+            self.assertRegex(file.stem, "^(__init__|[a-z][a-z0-9_]*)$")
+
+    def test_signs_and_sizes(self):
+        for _, text, tree in self.each():
+            self.assertRegex(text, r"\A[ -~\n]*\Z")
+            lines = text.split("\n")
+            self.assertLess(len(lines), 400)
+            self.assertLessEqual(max(len(line) for line in lines), 120)
+            for function in functions_in(tree):
+                self.assertLessEqual(function.end_lineno - function.lineno, 39)
+
+    def test_nodes(self):
+        for _, _, tree in self.each():
+            for node in ast.walk(tree):
+                self.assertIsInstance(node, NODES, getattr(node, "lineno", None))
+                if isinstance(node, ast.Constant):
+                    self.assertNotIsInstance(node.value, (float, complex, bytes))
+                if isinstance(node, ast.Constant) and isinstance(node.value, str):
+                    self.assertNotIn("%", node.value)
+                    self.assertNotRegex(node.value, r"\.__?\Z|__")
+                if isinstance(node, (ast.FunctionDef, ast.ClassDef)):
+                    self.assertEqual([], node.decorator_list)
+                if isinstance(node, ast.Compare) and isinstance(node.ops[0], (ast.Is, ast.IsNot)):
+                    self.assertIn(ast.unparse(node.comparators[0]), ("None", "True", "False"))
+                if isinstance(node, ast.BinOp) and isinstance(node.op, ast.Pow):
+                    self.assertIn(node.right.value, range(65))
+
+    def test_imports(self):
+        homes = {}
+        for file, _, tree in self.each():
+            homes[file.stem] = {n.name for n in tree.body if isinstance(n, (ast.FunctionDef, ast.ClassDef))}
+            for node in tree.body:
+                if isinstance(node, ast.Assign):
+                    homes[file.stem].add(node.targets[0].id)
+        uses = {}
+        for file, _, tree in self.each():
+            uses[file.stem] = set()
+            for node in ast.walk(tree):
+                if isinstance(node, ast.ImportFrom):
+                    self.assertIn(node, tree.body)
+                    self.assertEqual([None] * len(node.names), [name.asname for name in node.names])
+                    names = {name.name for name in node.names}
+                    if node.module in LIBRARY:
+                        self.assertLessEqual(names, LIBRARY[node.module])
+                    else:
+                        home = re.fullmatch(r"counterheld\.(\w+)", node.module)[1]
+                        self.assertLessEqual(names, homes[home])
+                        uses[file.stem].add(home)
+        while uses:
+            ready = [stem for stem in uses if not uses[stem]]
+            self.assertTrue(ready, "files import in a circle")
+            uses = {stem: uses[stem] - set(ready) for stem in uses if stem not in ready}
+
+    def test_module_level(self):
+        for _, _, tree in self.each():
+            self.assertIsInstance(tree.body[0].value.value, str)
+            for node in tree.body[1:]:
+                self.assertIsInstance(node, (ast.ImportFrom, ast.FunctionDef, ast.ClassDef, ast.Assign))
+                if isinstance(node, ast.Assign):
+                    above = {n.name for n in tree.body if isinstance(n, ast.FunctionDef) and n.lineno < node.lineno}
+                    self.assertEqual(1, len(node.targets))
+                    self.assertLessEqual({n.id for n in ast.walk(node.value) if isinstance(n, ast.Name)}, above)
+
+    def test_names(self):
+        for _, _, tree in self.each():
+            barred = {"__init__"}
+            for node in tree.body:
+                if isinstance(node, ast.ImportFrom):
+                    barred.update(name.name for name in node.names)
+                if isinstance(node, ast.ClassDef):
+                    barred.add(node.name)
+            bound = [node.id for node in ast.walk(tree) if isinstance(node, ast.Name) and not isinstance(node.ctx, ast.Load)]
+            for function in functions_in(tree):
+                bound += arguments_of(function)
+            defined = [node.name for node in ast.walk(tree) if isinstance(node, ast.FunctionDef)]
+            self.assertEqual(set(), set(bound) & barred)
+            builtin = set(__builtins__ if isinstance(__builtins__, dict) else dir(__builtins__))
+            self.assertEqual(set(), set(bound + defined) & builtin)
+            for name in bound + defined:
+                self.assertRegex(name, r"\A(_?[A-Za-z][A-Za-z0-9_]*|_|__init__)\Z")
+
+    def test_calls(self):
+        own = set()
+        for _, _, tree in self.each():
+            own.update(node.name for node in ast.walk(tree) if isinstance(node, ast.FunctionDef))
+        for _, _, tree in self.each():
+            bound = {node.id for node in ast.walk(tree) if isinstance(node, ast.Name) and isinstance(node.ctx, ast.Store)}
+            bound.update(node.name for node in ast.walk(tree) if isinstance(node, ast.ExceptHandler))
+            for node in tree.body:
+                if isinstance(node, ast.ImportFrom):
+                    bound.update(name.name for name in node.names)
+                if isinstance(node, (ast.FunctionDef, ast.ClassDef)):
+                    bound.add(node.name)
+            for function in functions_in(tree):
+                bound.update(arguments_of(function))
+            for node in ast.walk(tree):
+                if isinstance(node, ast.Name) and isinstance(node.ctx, ast.Load):
+                    self.assertIn(node.id, bound | BUILTINS)
+                if isinstance(node, ast.Call) and isinstance(node.func, ast.Attribute):
+                    self.assertIn(node.func.attr, METHODS | own)
+
+
+class Interface(unittest.TestCase):
+    def test_names_stand_where_they_are_listed(self):
+        for module, names in INTERFACE.items():
+            tree = ast.parse((FOLDER / f"{module}.py").read_text(encoding="utf-8"))
+            defined = {node.name: node for node in tree.body if isinstance(node, (ast.FunctionDef, ast.ClassDef))}
+            for name in names:
+                self.assertIn(name, defined)
+                if isinstance(defined[name], ast.FunctionDef):
+                    self.assertEqual(ARGUMENTS[name].split(), arguments_of(defined[name]))
+
+    def test_methods_stand_in_the_class(self):
+        from counterheld.scores import Score
+
+        self.assertIn("counts", vars(Score))
+
+
+if __name__ == "__main__":
+    unittest.main()
