@@ -1,7 +1,9 @@
 """What several tests ask."""
 
-import copy
 import unittest
+
+from counterheld.errors import ScoreError
+from counterheld.scores import Score
 
 
 class Case(unittest.TestCase):
@@ -9,7 +11,7 @@ class Case(unittest.TestCase):
 
     def assert_raises(self, error, attributes, function, *arguments):
         """The call raises just this error, with these attributes, and changes no argument."""
-        before = copy.deepcopy(arguments)
+        before = self.shown(arguments)
         with self.assertRaises(error) as caught:
             function(*arguments)
         self.assertIs(error, caught.exception.__class__)
@@ -17,7 +19,11 @@ class Case(unittest.TestCase):
         self.assertEqual(attributes, told)
         for name in attributes:
             self.assertIs(attributes[name].__class__, told[name].__class__)
-        self.assert_same(before, arguments)
+        self.assertEqual(before, self.shown(arguments))
+
+    def shown(self, arguments):
+        """The arguments as they are now; scores by what they hold."""
+        return [repr(vars(one) if isinstance(one, Score) else one) for one in arguments]
 
     def assert_same(self, one, other):
         """Both are equal, and of the same kinds throughout: no list for a tuple, no 1 for True."""
@@ -25,13 +31,11 @@ class Case(unittest.TestCase):
 
     def assert_answer(self, answer, function, *arguments):
         """The call answers this, of these very kinds, and changes no argument."""
-        before = copy.deepcopy(arguments)
+        before = self.shown(arguments)
         self.assert_same(answer, function(*arguments))
-        self.assert_same(before, arguments)
+        self.assertEqual(before, self.shown(arguments))
 
     def assert_error_class(self, error):
         """The class stands directly under ScoreError, which is a ValueError."""
-        from counterheld.errors import ScoreError
-
         self.assertEqual((ScoreError,), error.__bases__)
         self.assertEqual((ValueError,), ScoreError.__bases__)

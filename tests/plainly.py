@@ -169,3 +169,74 @@ def some_rules(chance, many, most=60):
         if rule is not None:
             rules.append(rule)
     return tuple(rules)
+
+
+def great_rules(chance, many, most=10 ** 12):
+    """Right rules, so many, that soon make very many columns, and are cut again and again."""
+    voices = chance.randint(1, 4)
+    rules = [("bar", some_bar(chance, voices, 64, parts=30))]
+    counts = [len(rules[0][1])]
+    while len(rules) < many:
+        i = chance.choice((len(rules) - 1, len(rules) - 1, chance.randrange(len(rules))))
+        j = chance.choice((len(rules) - 1, chance.randrange(len(rules))))
+        word = chance.choice(("then", "then", "times", "raise", "turn", "pace", "voices", "cut", "cut"))
+        if word == "then" and counts[i] + counts[j] <= most:
+            rules.append((word, i, j))
+            counts.append(counts[i] + counts[j])
+        if word == "times" and counts[i] * 3 <= most:
+            k = chance.randint(2, min(most // counts[i], 10 ** chance.randint(1, 4)))
+            rules.append((word, i, k))
+            counts.append(counts[i] * k)
+        if word == "cut":
+            first = chance.randrange(1 + counts[i] // 4)
+            stop = counts[i] - chance.randrange(1 + counts[i] // 4)
+            if first < stop:
+                rules.append((word, i, first, stop))
+                counts.append(stop - first)
+        if word == "pace":
+            rules.append((word, i, some_fraction(chance, chance.choice((6, 1000)))))
+        if word == "voices":
+            rules.append((word, i, tuple(chance.sample(range(voices), voices))))
+        if word in ("raise", "turn"):
+            rules.append((word, i, some_tone(chance, 5)))
+        counts += counts[i:i + 1] * (len(rules) - len(counts))
+    return tuple(rules), counts
+
+
+def column_of(rules, counts, number, n):
+    """The column n of the rule with the number, found by going from rule to rule."""
+    rule = rules[number]
+    word = rule[0]
+    if word == "bar":
+        return plain_column(rule[1][n])
+    i = rule[1]
+    if word == "then":
+        return column_of(rules, counts, i, n) if n < counts[i] else column_of(rules, counts, rule[2], n - counts[i])
+    if word == "times":
+        return column_of(rules, counts, i, n % counts[i])
+    if word == "cut":
+        return column_of(rules, counts, i, n + rule[2])
+    return changed_column(column_of(rules, counts, i, n), rule)
+
+
+def moment_of(rules, counts, number, n, kept):
+    """The moment of the column n of a rule as a Fraction, or its duration if n is how many columns it makes."""
+    if (number, n) not in kept:
+        kept[number, n] = way_to_moment(rules, counts, number, n, kept)
+    return kept[number, n]
+
+
+def way_to_moment(rules, counts, number, n, kept):
+    rule = rules[number]
+    word = rule[0]
+    if word == "bar":
+        return moments(rule[1])[n]
+    i = rule[1]
+    if word == "then" and n > counts[i]:
+        return moment_of(rules, counts, i, counts[i], kept) + moment_of(rules, counts, rule[2], n - counts[i], kept)
+    if word == "times":
+        copies, rest = divmod(n, counts[i])
+        return copies * moment_of(rules, counts, i, counts[i], kept) + moment_of(rules, counts, i, rest, kept)
+    if word == "cut":
+        return moment_of(rules, counts, i, n + rule[2], kept) - moment_of(rules, counts, i, rule[2], kept)
+    return moment_of(rules, counts, i, n, kept) * (Fraction(*rule[2]) if word == "pace" else 1)
