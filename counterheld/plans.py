@@ -54,7 +54,7 @@ class Plan:
         return product(length, pace_of(rule))
 
     def _start_of(self, rule):
-        return self.moment_ahead(rule[1], rule[2]) if rule[0] == "cut" else (0, 1)
+        return self.moment_ahead(rule[1], rule[2]) if rule[0] == "cut" else None
 
     def pieces(self, number, first, stop):
         """The parts (rule, first, stop, how often) that make a part of the columns of a rule that is no bar.
@@ -110,10 +110,8 @@ class Plan:
         if rule[0] == "then" and ahead >= self.sizes[i]:
             return self.durations[i], rule[2], ahead - self.sizes[i]
         if rule[0] == "times":
-            copies = ahead // self.sizes[i]
-            # Behind the last copy there is no other one to go into.
-            copies = min(copies, rule[2] - 1)
-            return product(self.durations[i], (copies, 1)), i, ahead - copies * self.sizes[i]
+            copies, rest = divmod(ahead, self.sizes[i])
+            return product(self.durations[i], (copies, 1)), i, rest
         if rule[0] == "cut":
             return product(self.starts[number], (-1, 1)), i, ahead + rule[2]
         return (0, 1), i, ahead

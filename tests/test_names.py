@@ -64,6 +64,21 @@ class Written(Case):
             for f in SOME:
                 self.check(f, o)
 
+    def test_all_fifths_with_all_octaves(self):
+        # With one f, octaves change the numbers in names alone.
+        for f in NUMBERS:
+            first = plainly.tone_name(f, 0)
+            letter = first.rstrip("-0123456789")
+            octave = int(first[len(letter):])
+            self.assertEqual([letter + str(octave + o) for o in NUMBERS], [tone_name((f, o)) for o in NUMBERS])
+            up, down = (plainly.interval_name(f, o).strip("-0123456789") for o in (1000, -1000))
+            names = []
+            for o in NUMBERS:
+                many = 4 * f + 7 * o
+                upward = many > 0 or (many == 0 and f >= 0)
+                names.append(f"{up}{many + 1}" if upward else f"-{down}{1 - many}")
+            self.assertEqual(names, [interval_name((f, o)) for o in NUMBERS])
+
     def test_the_names_of_all_are_different(self):
         tones = {tone_name((f, o)) for f in range(-60, 61) for o in range(-60, 61)}
         intervals = {interval_name((f, o)) for f in range(-60, 61) for o in range(-60, 61)}
