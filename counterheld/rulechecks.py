@@ -5,7 +5,7 @@ from counterheld.kinds import is_row, is_short_fraction, is_tone, is_whole
 
 # The most columns that a rule makes, and the most times that one comes.
 MOST_COLUMNS = 10 ** 12
-# For each word how many elements a rule has, and how many of those behind the word are earlier rules.
+# For each word how many things a rule has, and how many of those behind the word are earlier rules.
 FORMS = {
     "bar": (2, 0),
     "then": (3, 2),
@@ -36,7 +36,7 @@ def checked_rule(plan, rule):
 
 
 def has_form(rule):
-    """Whether it is a row of a word of rules and as many elements as this asks for, whatever they are."""
+    """Whether it is a row of a word of rules and as many things as this asks for, whatever they are."""
     if not is_row(rule) or not rule or not isinstance(rule[0], str) or rule[0] not in FORMS:
         return False
     return len(rule) == FORMS[rule[0]][0]
