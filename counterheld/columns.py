@@ -29,7 +29,7 @@ def check_bar(columns):
         if reason is not None:
             raise BadColumn(number, reason)
         voices = len(column[2])
-    return _with_tones(columns, tuple_of)
+    return as_tuples(columns)
 
 
 def _reason(column, voices):
@@ -59,6 +59,10 @@ def _is_entry(thing):
 def tuple_of(tone):
     f, o = tone
     return (f, o)
+
+
+def as_tuples(bar):
+    return _with_tones(bar, tuple_of)
 
 
 def raised(bar, interval):

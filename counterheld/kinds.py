@@ -16,9 +16,14 @@ def is_pair(thing):
     return is_row(thing) and len(thing) == 2
 
 
+def is_number(thing):
+    """Whether it is a whole number; True and False are none."""
+    return isinstance(thing, int) and not isinstance(thing, bool)
+
+
 def is_whole(thing, low, high):
-    """Whether it is a whole number from low to high; True and False are none."""
-    return isinstance(thing, int) and not isinstance(thing, bool) and low <= thing <= high
+    """Whether it is a whole number from low to high."""
+    return is_number(thing) and low <= thing <= high
 
 
 def is_tone(thing):
@@ -31,3 +36,10 @@ def is_short_fraction(thing):
     if not is_pair(thing) or not all([is_whole(number, 1, MOST_PARTS) for number in thing]):
         return False
     return gcd(thing[0], thing[1]) == 1
+
+
+def is_fraction(thing):
+    """Whether it is a fraction: two whole numbers in lowest terms, the second one at least 1."""
+    if not is_pair(thing) or not all([is_number(number) for number in thing]):
+        return False
+    return thing[1] >= 1 and gcd(thing[0], thing[1]) == 1

@@ -30,7 +30,7 @@ class NoMoment(ScoreError):
 class Written(Fold):
     """The columns themselves."""
 
-    def of_columns(self, columns):
+    def of_columns(self, columns, way):
         return columns
 
     def joined(self, one, other):
@@ -39,7 +39,7 @@ class Written(Fold):
     def many_times(self, one, many):
         return one * many
 
-    def changed(self, one, rule):
+    def changed(self, one, rule, way):
         if rule[0] == "raise":
             return raised(one, rule[2])
         if rule[0] == "turn":
@@ -54,7 +54,7 @@ class Written(Fold):
 class Grid(Fold):
     """The greatest fraction of which all durations of columns are whole multiples."""
 
-    def of_columns(self, columns):
+    def of_columns(self, columns, way):
         return common_grid([duration for duration, _, _ in columns])
 
     def joined(self, one, other):
@@ -63,7 +63,7 @@ class Grid(Fold):
     def many_times(self, one, many):
         return one
 
-    def changed(self, one, rule):
+    def changed(self, one, rule, way):
         return product(one, pace_of(rule))
 
 
@@ -111,4 +111,4 @@ def column_at(score, moment):
 
 
 def grid(score):
-    return Grid(score.plan).of_rule(score.plan.last())
+    return Grid(score.plan).of_score()

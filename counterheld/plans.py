@@ -2,6 +2,10 @@
 
 from counterheld.fractions import difference, is_less, product, sum_of
 
+# The most folds that a plan keeps, and the most parts that a fold has that is still kept.
+MOST_FOLDS = 12
+MOST_PARTS = 100000
+
 
 class Plan:
     """Right rules as tuples, with how many columns each makes, their duration, and the moment where a cut begins."""
@@ -12,9 +16,26 @@ class Plan:
         self.durations = []
         self.starts = []
         self.voices = None
+        self.folds = {}
 
     def last(self):
         return len(self.rules) - 1
+
+    def kept(self, key):
+        """The fold that is kept under the key, or None.
+
+        What has been worked out once of a score need not be worked out for the next question.
+        """
+        fold = self.folds.get(key)
+        # Parts that are asked for once only would fill it more and more.
+        return None if fold is None or len(fold.parts) > MOST_PARTS else fold
+
+    def keep(self, key, fold):
+        """Keeps the fold under the key, and returns it."""
+        if len(self.folds) >= MOST_FOLDS:
+            self.folds = {}
+        self.folds[key] = fold
+        return fold
 
     def put(self, rule):
         """Puts a right rule behind the others."""

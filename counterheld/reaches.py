@@ -7,7 +7,7 @@ from counterheld.tones import added, between
 class Reach(Fold):
     """The pair of the least numbers of all tones in columns, and of the greatest ones; None if no voice sounds."""
 
-    def of_columns(self, columns):
+    def of_columns(self, columns, way):
         tones = []
         for _, _, entries in columns:
             for entry in entries:
@@ -28,7 +28,7 @@ class Reach(Fold):
     def many_times(self, one, many):
         return one
 
-    def changed(self, one, rule):
+    def changed(self, one, rule, way):
         if one is None:
             return None
         low, high = one

@@ -2,8 +2,14 @@
 
 import unittest
 
+from counterheld.books import Book
 from counterheld.errors import ScoreError
 from counterheld.scores import Score
+
+
+def within(numbers, many):
+    """Those of the numbers that are from 0 up to, but without, many; ascending and each once."""
+    return sorted({number for number in numbers if 0 <= number < many})
 
 
 class Case(unittest.TestCase):
@@ -22,8 +28,15 @@ class Case(unittest.TestCase):
         self.assertEqual(before, self.shown(arguments))
 
     def shown(self, arguments):
-        """The arguments as they are now; scores by what they hold."""
-        return [repr(vars(one) if isinstance(one, Score) else one) for one in arguments]
+        """The arguments as they are now; scores and books by what they hold, also within."""
+        return [repr(self.with_objects_open(one)) for one in arguments]
+
+    def with_objects_open(self, thing):
+        if isinstance(thing, (Score, Book)):
+            return vars(thing)
+        if isinstance(thing, (list, tuple)):
+            return thing.__class__(self.with_objects_open(part) for part in thing)
+        return thing
 
     def assert_same(self, one, other):
         """Both are equal, and of the same kinds throughout: no list for a tuple, no 1 for True."""

@@ -1,9 +1,12 @@
 """The subset of Python that the files of the package keep to, as far as it can be seen in single files."""
 
 import ast
+import importlib
 import re
 import unittest
 from pathlib import Path
+
+from counterheld.errors import ScoreError
 
 FOLDER = Path(__file__).resolve().parent.parent / "counterheld"
 FILES = sorted(FOLDER.glob("*.py"))
@@ -13,7 +16,7 @@ LIBRARY = {
 }
 BUILTINS = set(
     "len range enumerate zip min max sum abs sorted reversed int str bool list tuple dict set isinstance ord repr any all "
-    "divmod ValueError KeyError NotImplementedError".split()
+    "divmod ValueError KeyError NotImplementedError type".split()
 )
 METHODS = set(
     "append clear copy count endswith extend find get index insert isalnum isalpha isdigit islower isspace isupper items "
@@ -27,7 +30,8 @@ NODES = (
     ast.Subscript, ast.Slice, ast.Tuple, ast.List, ast.Dict, ast.ListComp, ast.DictComp, ast.comprehension, ast.Lambda,
     ast.IfExp, ast.BoolOp, ast.And, ast.Or, ast.UnaryOp, ast.Not, ast.USub, ast.BinOp, ast.Add, ast.Sub, ast.Mult,
     ast.FloorDiv, ast.Mod, ast.Pow, ast.Compare, ast.Eq, ast.NotEq, ast.Lt, ast.LtE, ast.Gt, ast.GtE, ast.Is, ast.IsNot,
-    ast.In, ast.NotIn, ast.JoinedStr, ast.FormattedValue, ast.Starred,
+    ast.In, ast.NotIn, ast.JoinedStr, ast.FormattedValue, ast.Starred, ast.SetComp, ast.BitAnd, ast.BitOr, ast.LShift,
+    ast.RShift,
 )
 INTERFACE = {
     "errors": ["ScoreError"],
@@ -40,6 +44,18 @@ INTERFACE = {
     "scores": ["BadScore", "Score", "TooLong"],
     "scoretexts": ["BadScoreText", "score_text", "read_score"],
     "moments": ["written", "NoColumn", "NoMoment", "column", "moment_of", "column_at", "columns", "grid"],
+    "lines": ["NoVoice", "NoNote", "note_count", "note", "note_at", "notes_by_tone"],
+    "extents": ["highest", "lowest", "widest", "signatures"],
+    "books": ["BadBook", "Book", "turned_book", "exchanged_book", "holds", "moved", "run"],
+    "broken": [
+        "NoBroken", "broken_count", "broken_in", "lets", "broken", "first_broken", "last_broken", "state_behind", "why",
+    ],
+    "papers": ["paper_of", "shows", "table_of"],
+    "boxes": ["BadBox", "word_score", "lets_word", "word_count", "word_at", "word_index", "longest", "endless"],
+    "machines": ["parting_word", "keeping_paper", "is_keeping", "machine", "apart_count", "apart_at"],
+    "gaps": ["BadGap", "filling_count", "filling_at", "filling_index", "blocked", "is_blocked_by"],
+    "costs": ["cheapest", "filling_by_cost", "potentials", "shows_least"],
+    "refrains": ["refrain_count", "refrain_at"],
 }
 ARGUMENTS = {
     "steps": "interval", "height": "interval", "added": "one other", "opposite": "interval", "between": "one other",
@@ -50,7 +66,22 @@ ARGUMENTS = {
     "check_bar": "columns", "raised": "bar interval", "turned": "bar total", "paced": "bar by", "exchanged": "bar order",
     "notes": "bar voice", "bar_text": "bar", "read_bar": "text", "score_text": "score", "read_score": "text",
     "written": "score", "column": "score number", "moment_of": "score number", "column_at": "score moment",
-    "columns": "score first stop", "grid": "score",
+    "columns": "score first stop", "grid": "score", "note_count": "score voice", "note": "score voice number",
+    "note_at": "score voice column", "notes_by_tone": "score voice", "highest": "score voice first stop",
+    "lowest": "score voice first stop", "widest": "score one other", "signatures": "score first stop",
+    "turned_book": "book", "exchanged_book": "book order", "holds": "test one other", "moved": "book state one other",
+    "run": "book columns state", "broken_count": "score book", "broken_in": "score book first stop", "lets": "score book",
+    "broken": "score book number", "first_broken": "score book", "last_broken": "score book",
+    "state_behind": "score book number", "why": "score book number", "paper_of": "score book",
+    "shows": "score book paper number", "table_of": "score book rule first stop view", "word_score": "box word",
+    "lets_word": "box book word", "word_count": "box book length", "word_at": "box book length index",
+    "word_index": "box book word", "longest": "box book", "endless": "box book", "parting_word": "box one other",
+    "keeping_paper": "box one other", "is_keeping": "box one other paper", "machine": "box book",
+    "apart_count": "box one other length", "apart_at": "box one other length index", "filling_count": "gap book",
+    "filling_at": "gap book index", "filling_index": "gap book word", "blocked": "gap book",
+    "is_blocked_by": "gap book paper", "cheapest": "gap book costs", "filling_by_cost": "gap book costs index",
+    "potentials": "gap book costs", "shows_least": "gap book costs told cost", "refrain_count": "refrain book",
+    "refrain_at": "refrain book index",
 }
 
 
@@ -84,7 +115,7 @@ class Language(unittest.TestCase):
                 self.assertLessEqual(function.end_lineno - function.lineno, 39)
 
     def test_nodes(self):
-        for _, _, tree in self.each():
+        for _, text, tree in self.each():
             for node in ast.walk(tree):
                 self.assertIsInstance(node, NODES, getattr(node, "lineno", None))
                 if isinstance(node, ast.Constant):
@@ -95,7 +126,10 @@ class Language(unittest.TestCase):
                 if isinstance(node, (ast.FunctionDef, ast.ClassDef)):
                     self.assertEqual([], node.decorator_list)
                 if isinstance(node, ast.Compare) and isinstance(node.ops[0], (ast.Is, ast.IsNot)):
-                    self.assertIn(ast.unparse(node.comparators[0]), ("None", "True", "False"))
+                    if not re.match(r"type\(\w+\) is (not )?int$", ast.unparse(node)):
+                        self.assertIn(ast.unparse(node.comparators[0]), ("None", "True", "False"))
+                if isinstance(node, ast.Call) and ast.unparse(node.func) == "type":
+                    self.assertRegex(text, rf"type\({ast.unparse(node.args[0])}\) is ")
                 if isinstance(node, ast.BinOp) and isinstance(node.op, ast.Pow):
                     self.assertIn(node.right.value, range(65))
 
@@ -153,13 +187,57 @@ class Language(unittest.TestCase):
             for name in bound + defined:
                 self.assertRegex(name, r"\A(_?[A-Za-z][A-Za-z0-9_]*|_|__init__)\Z")
 
+    def test_methods_and_attributes(self):
+        methods, attributes = set(), set()
+        for _, _, tree in self.each():
+            for node in ast.walk(tree):
+                if isinstance(node, ast.ClassDef):
+                    self.assertRegex(node.name, "^[A-Z][A-Za-z]*$")
+                    methods.update(method.name for method in node.body if isinstance(method, ast.FunctionDef))
+                if isinstance(node, ast.Attribute) and isinstance(node.ctx, ast.Store):
+                    attributes.add(node.attr)
+        self.assertEqual(set(), methods & attributes)
+        self.assertEqual(set(), methods & METHODS)
+        self.assertEqual({"count"}, attributes & METHODS)
+
+    def test_nothing_that_is_gone_over_is_changed(self):
+        changing = ("append", "clear", "extend", "insert", "pop", "remove", "reverse", "setdefault", "update")
+        for file, _, tree in self.each():
+            for loop in ast.walk(tree):
+                if not isinstance(loop, ast.For):
+                    continue
+                over = {ast.unparse(node) for node in ast.walk(loop.iter) if isinstance(node, (ast.Name, ast.Attribute))}
+                for node in [node for row in loop.body for node in ast.walk(row)]:
+                    changed = None
+                    if isinstance(node, ast.Attribute) and node.attr in changing:
+                        changed = node.value
+                    if isinstance(node, ast.Subscript) and not isinstance(node.ctx, ast.Load):
+                        changed = node.value
+                    if changed is not None:
+                        self.assertNotIn(ast.unparse(changed), over, (file.stem, node.lineno))
+
+    def test_sets_and_things_gone_over_at_once(self):
+        once = ("zip", "enumerate", "range", "reversed")
+        for file, _, tree in self.each():
+            parents = {child: node for node in ast.walk(tree) for child in ast.iter_child_nodes(node)}
+            for node in ast.walk(tree):
+                called = ast.unparse(node.func) if isinstance(node, ast.Call) else ""
+                parent = parents.get(node)
+                around = ast.unparse(parent.func) if isinstance(parent, ast.Call) else ""
+                place = (file.stem, getattr(node, "lineno", None))
+                if isinstance(node, ast.SetComp) or called == "set":
+                    self.assertIn(around, ("sorted", "len"), place)
+                if called in once or re.search(r"[.](items|keys|values)$", called):
+                    if not isinstance(parent, (ast.For, ast.comprehension)):
+                        self.assertIn(around, ("tuple", "list", "enumerate", "zip", "sorted", "reversed"), place)
+
     def test_calls(self):
         own = set()
         for _, _, tree in self.each():
             own.update(node.name for node in ast.walk(tree) if isinstance(node, ast.FunctionDef))
         for _, _, tree in self.each():
             bound = {node.id for node in ast.walk(tree) if isinstance(node, ast.Name) and isinstance(node.ctx, ast.Store)}
-            bound.update(node.name for node in ast.walk(tree) if isinstance(node, ast.ExceptHandler))
+            bound.update(node.name for node in ast.walk(tree) if isinstance(node, (ast.ExceptHandler, ast.FunctionDef)))
             for node in tree.body:
                 if isinstance(node, ast.ImportFrom):
                     bound.update(name.name for name in node.names)
@@ -183,6 +261,13 @@ class Interface(unittest.TestCase):
                 self.assertIn(name, defined)
                 if isinstance(defined[name], ast.FunctionDef):
                     self.assertEqual(ARGUMENTS[name].split(), arguments_of(defined[name]))
+
+    def test_names_of_errors(self):
+        for module, names in INTERFACE.items():
+            for name in names:
+                if name[:1].isupper() and name not in ("Score", "Book", "ScoreError"):
+                    error = getattr(importlib.import_module(f"counterheld.{module}"), name)
+                    self.assertEqual((ScoreError,), error.__bases__)
 
     def test_methods_stand_in_the_class(self):
         from counterheld.scores import Score
