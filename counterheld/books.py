@@ -1,9 +1,9 @@
 """Books of rules: tests of neighbouring columns, and states."""
 
-from counterheld.booktests import exchanged_test, is_held, is_test, tuples_of_test, turned_test
 from counterheld.columns import as_tuples
 from counterheld.errors import ScoreError
 from counterheld.kinds import is_row, is_whole
+from counterheld.probes import exchanged_test, is_held, is_test, tuples_of_test, turned_test
 from counterheld.steps import Steps, silence
 
 MOST_TESTS = 16

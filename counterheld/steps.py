@@ -1,6 +1,6 @@
 """The steps of a book from column to column."""
 
-from counterheld.booktests import is_held
+from counterheld.probes import is_held
 
 # The most moves of which a book keeps what they do.
 MOST_MOVES = 20000
