@@ -34,7 +34,7 @@ class Notes(Marks):
     """The notes of a voice; the way is the voice, and a column is marked if a note begins in it.
 
     Told is (how many columns there are, the first one's entry, the last one's tone or None, how many notes begin
-    behind the first one, how many columns from the first one on do nothing but go on with one tone).
+    behind the first one, how many columns from the first one on have the first one's entry).
     """
 
     def of_columns(self, columns, way):
@@ -42,8 +42,7 @@ class Notes(Marks):
         for _, _, entries in columns:
             entry = entries[way]
             tone = None if entry is None else entry[0]
-            lead = 0 if entry is None or entry[1] else 1
-            column = (1, entry, tone, 0, lead)
+            column = (1, entry, tone, 0, 1)
             told = column if told is None else self.joined(told, column)
         return told
 

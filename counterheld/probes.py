@@ -150,8 +150,7 @@ def _leap(test, one, other):
 
 
 def _by(test, one, other):
-    step = _step(test[1], one, other)
-    return step is not None and step in test[2]
+    return _step(test[1], one, other) in test[2]
 
 
 def _width(test, column):

@@ -145,9 +145,42 @@ def some_test(chance, word=None, far=6):
     return (word, one, other)
 
 
-def some_book(chance, tests=8, states=5, choices=5, often=0.5):
-    """A pair (tests, states), so many of each."""
-    rows = tuple(some_test(chance) for _ in range(tests))
+def test_of_move(chance, one, other):
+    """A test that just holds of the move, as exact as may be, or any one."""
+    told = [("accent", other[1])]
+    if one[0][0] > 0:
+        times = Fraction(*other[0]) / Fraction(*one[0])
+        if times <= 1000:
+            pair = (times.numerator, times.denominator)
+            told += [("lasts", pair, pair)] * 3
+    for v in range(len(other[2])):
+        for word in ("begins", "silent", "loose"):
+            if holds((word, v), one, other):
+                told.append((word, v))
+        up = leap(one, other, v)
+        if up is not None and abs(up) <= 200:
+            (f, o), (g, p) = one[2][v][0], other[2][v][0]
+            told += [("leap", v, up, up)] * 2
+            if max(abs(g - f), abs(p - o)) <= 1000:
+                told += [("by", v, ((g - f, p - o),))] * 2
+        for w in range(len(other[2])):
+            wide = width(other, v, w)
+            if v != w and wide is not None:
+                told += [("class", v, w, (wide % 12,))] + [("apart", v, w, wide, wide)] * (abs(wide) <= 200)
+                told += [("along", v, w)] * holds(("along", v, w), one, other)
+    return chance.choice(told)
+
+
+def moves_of(columns):
+    """The moves of the columns, as pairs."""
+    return list(zip([silence(len(columns[0][2]))] + list(columns), columns))
+
+
+def some_book(chance, tests=8, states=5, choices=5, often=0.5, moves=()):
+    """A pair (tests, states), so many of each; many of the tests hold of some of the moves, if there are any."""
+    rows = tuple(
+        test_of_move(chance, *chance.choice(moves)) if moves and chance.random() < 0.7 else some_test(chance) for _ in range(tests)
+    )
 
     def some_numbers(most):
         return tuple(chance.randrange(tests) for _ in range(chance.randint(0, most))) if tests else ()

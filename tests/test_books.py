@@ -117,6 +117,11 @@ class Tests(Case):
             other = one_column(((0, 4 + step), True), ((0, 4 + beside), True))
             self.check(wanted, ("along", 0, 1), one, other)
             self.check(wanted, ("along", 1, 0), one, other)
+        # The semitone, up and down: (7, -4) goes up one key.
+        for up, beside, wanted in ((1, 1, True), (-1, -1, True), (1, -1, False), (-1, 1, False), (1, 0, False), (0, -1, False)):
+            one = one_column((C, True), (G, True))
+            other = one_column(((7 * up, 4 - 4 * up), True), ((1 + 7 * beside, 4 - 4 * beside), True))
+            self.check(wanted, ("along", 0, 1), one, other)
         # One height spelled in two ways is neither up nor down.
         self.check(False, ("along", 0, 1), one_column((C, True), (C, True)), one_column(((12, -3), True), (G, True)))
         up = one_column((G, True), (G, True))
@@ -197,6 +202,16 @@ class Books(Case):
             for many in (1, 2, 1000):
                 for state in (0, 7, 23):
                     self.check_run(book, (tests, states), row[:many], state)
+
+    def test_very_many_moves(self):
+        """What is kept of moves does not grow without end, and is right when it begins anew."""
+        chance = random.Random(68)
+        plain = plainbooks.some_book(chance, 4, 3, 5)
+        book = Book(*plain)
+        rows = [tuple(((n, 7 + k), n % 3, ((((n + k) % 19, k), n % 2 == 0), None)) for n in range(1, 1001)) for k in range(25)]
+        for row in rows + rows[:2]:
+            self.assertEqual(plainbooks.run(plain, row, 1), run(book, row, 1))
+        self.assertLess(len(book.steps.moves), 21000)
 
     def test_the_first_tuple_that_applies(self):
         tests = (("accent", 1), ("begins", 0), ("silent", 0))
@@ -395,7 +410,7 @@ class TurnedAndExchanged(Case):
             rules = plainly.some_rules(chance, chance.randint(1, 10), 40)
             row = plainly.written(rules)[-1]
             score, last = Score(rules), len(rules) - 1
-            plain = plainbooks.some_book(chance, 12, 4, 6)
+            plain = plainbooks.some_book(chance, 12, 4, 6, moves=plainbooks.moves_of(row))
             book = Book(*plain)
             turned = Score(rules + (("turn", last, plainly.some_tone(chance, 9)),))
             wanted = [n for n, told in enumerate(run(book, columns(turned, 0, turned.count), 0)) if told[1]]

@@ -2,6 +2,7 @@
 
 import random
 import unittest
+from fractions import Fraction
 
 from counterheld.books import Book, moved
 from counterheld.broken import (
@@ -59,7 +60,8 @@ class FewColumns(Case):
         met = 0
         for _ in range(200):
             rules = plainly.some_rules(chance, chance.randint(1, 20))
-            plain = plainbooks.some_book(chance, chance.randint(0, 16), chance.randint(1, 24), chance.randint(0, 16))
+            moves = plainbooks.moves_of(plainly.written(rules)[-1])
+            plain = plainbooks.some_book(chance, chance.randint(0, 16), chance.randint(1, 24), chance.randint(0, 16), moves=moves)
             met += len(self.check(rules, plain)) > 0
             count = Score(rules).count
             parts = [(first, chance.randint(first + 1, count)) for first in [chance.randrange(count) for _ in range(8)]]
@@ -77,7 +79,8 @@ class FewColumns(Case):
     def test_sixty_rules(self):
         chance = random.Random(73)
         for _ in range(8):
-            self.check(plainly.some_rules(chance, 60, 150), plainbooks.some_book(chance, 12, 10, 8))
+            rules = plainly.some_rules(chance, 60, 150)
+            self.check(rules, plainbooks.some_book(chance, 12, 10, 8, moves=plainbooks.moves_of(plainly.written(rules)[-1])))
 
     def test_copies(self):
         chance = random.Random(74)
@@ -86,6 +89,38 @@ class FewColumns(Case):
             rules += (("times", len(rules) - 1, chance.randint(2, 40)), ("times", chance.randrange(len(rules) + 1), chance.randint(1, 3)))
             rules += (("cut", len(rules) - 1, chance.randrange(3), Score(rules).count - chance.randrange(3)),) if Score(rules).count > 8 else ()
             self.check(rules, plainbooks.some_book(chance, 10, 8, 8))
+
+    def test_one_exact_test(self):
+        """Every move of a score by the tests that just hold of it, over the ends of rules that raise, turn, pace and exchange."""
+        chance = random.Random(79)
+        for _ in range(60):
+            rules = plainly.some_rules(chance, chance.randint(4, 14), 40)
+            for move in plainbooks.moves_of(plainly.written(rules)[-1]):
+                test = plainbooks.test_of_move(chance, *move)
+                self.check_count(rules, ((test,), ((((0,), (), 0, True),),)))
+
+    def check_count(self, rules, plain):
+        wanted = plainbooks.broken(plain, plainly.written(rules)[-1])
+        self.assertEqual(wanted, [broken(Score(rules), Book(*plain), k) for k in range(broken_count(Score(rules), Book(*plain)))])
+
+    def test_over_ends_of_rules(self):
+        columns = (((1, 4), 1, ((C, True), (G, True))), ((1, 3), 0, (((3, 2), True), ((-2, 5), True))))
+        rows = (("raise", 0, (3, -1)), ("raise", 0, (0, 1)), ("raise", 0, (1, 0)), ("turn", 0, (2, 7)), ("turn", 0, (0, 8)), ("pace", 0, (3, 5)), ("voices", 0, (1, 0)))
+        for one in rows:
+            for other in rows:
+                for third in rows:
+                    rules = (("bar", columns), one, (other[0], 1, other[2]), ("then", 0, 2), ("then", 3, 1), (third[0], 4, third[2]), ("then", 5, 0))
+                    row = plainly.written(rules)[-1]
+                    score = Score(rules)
+                    for number in (2, 4, 6):
+                        (n, d), (m, e) = row[number - 1][0], row[number][0]
+                        times = Fraction(m * d, e * n)
+                        pair = (times.numerator, times.denominator)
+                        f, o = [row[number][2][1][0][k] - row[number - 1][2][1][0][k] for k in (0, 1)]
+                        tests = (("lasts", pair, pair), ("by", 1, ((f, o),)), ("leap", 1, 7 * f + 12 * o, 7 * f + 12 * o))
+                        book = Book(tests, ((((0, 1, 2), (), 0, True), ((0,), (), 1, True)), ()))
+                        self.assertEqual(plainbooks.broken((book.tests, book.states), row), [broken(score, book, k) for k in range(broken_count(score, book))])
+                        self.assertTrue(why(score, book, number)[1] == (0, 1, 2))
 
     def test_books_that_break_all_or_nothing(self):
         rules = (("bar", bar(0, 1, 1)), ("times", 0, 7), ("turn", 1, (0, 8)), ("then", 2, 1))
@@ -190,14 +225,17 @@ class ManyColumns(Case):
         chance = random.Random(76)
         for _ in range(20):
             rules, counts = plainly.great_rules(chance, chance.choice((6, 25, 60)))
-            self.check(chance, rules, counts, plainbooks.some_book(chance, 12, chance.choice((1, 5, 24)), 8))
+            last, numbers = len(rules) - 1, [chance.randrange(counts[-1] - 1) for _ in range(20)] + [size for size in counts if size < counts[-1]]
+            moves = [(plainly.column_of(rules, counts, last, n), plainly.column_of(rules, counts, last, n + 1)) for n in numbers if n + 1 < counts[-1]]
+            self.check(chance, rules, counts, plainbooks.some_book(chance, 12, chance.choice((1, 5, 24)), 8, moves=moves))
 
     def test_great_scores_that_can_be_written(self):
         chance = random.Random(77)
         for _ in range(15):
             rules, counts = plainly.great_rules(chance, 50, 3000)
-            plain = plainbooks.some_book(chance, 10, 8, 8)
-            wanted = plainbooks.broken(plain, plainly.written(rules)[-1])
+            row = plainly.written(rules)[-1]
+            plain = plainbooks.some_book(chance, 10, 8, 8, moves=plainbooks.moves_of(row))
+            wanted = plainbooks.broken(plain, row)
             score, book = Score(rules), Book(*plain)
             self.assert_answer(len(wanted), broken_count, score, book)
             for number in within({0, len(wanted) // 2, len(wanted) - 1}, len(wanted)):
@@ -215,6 +253,17 @@ class ManyColumns(Case):
         many = [counting_book(1 + k % 24) for k in range(60)]
         for _ in range(2):
             self.assertEqual([2 * 10 ** 9 // (1 + k % 24) for k in range(60)], [broken_count(scores[0], book) for book in many])
+
+
+    def test_very_many_questions(self):
+        """What is kept of a score does not grow without end, and is right when it begins anew."""
+        chance = random.Random(78)
+        score, book = Score((("bar", bar(1, 0, 1)), ("times", 0, 3 * 10 ** 11))), counting_book(5)
+        for _ in range(8000):
+            number = chance.randrange(score.count)
+            ahead = 2 * (number // 3) + (1, 1, 2)[number % 3]
+            self.assertEqual(ahead % 5, state_behind(score, book, number))
+        self.assertLess(len(score.plan.folds[book].parts), 110000)
 
 
 class Letting(Case):

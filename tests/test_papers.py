@@ -117,7 +117,7 @@ class Example(Case):
                 if thing in (0, 1):
                     paper = self.PAPER[:k] + (row[:m] + (bool(thing),) + row[m + 1:],) + self.PAPER[k + 1:]
                     self.assert_answer(False, shows, self.score, self.book, paper, 6)
-            for view in ((True, row[3][1]), (row[3][0], (False, True)), (row[3][0], (0, True))):
+            for view in ((True, row[3][1]), (0, row[3][1]), (2, row[3][1]), (-2, row[3][1]), (row[3][0], (False, True)), (row[3][0], (0, True)), (row[3][0], (0, 0)), (row[3][0], (0, 2)), (row[3][0], (0, -1)), (row[3][0], (0,)), (row[3][0], (0, 1, 2))):
                 paper = self.PAPER[:k] + (row[:3] + (view,) + row[4:],) + self.PAPER[k + 1:]
                 self.assert_answer(False, shows, self.score, self.book, paper, 6)
             for table in (((False, row[4][0][1]),), ((0, True),), [row[4][0]], (list(row[4][0]),)):
@@ -160,7 +160,8 @@ class FewColumns(Case):
         chance = random.Random(81)
         for _ in range(150):
             rules = plainly.some_rules(chance, chance.randint(1, 16))
-            plain = plainbooks.some_book(chance, chance.randint(0, 10), chance.randint(1, 6), 6)
+            moves = plainbooks.moves_of(plainly.written(rules)[-1])
+            plain = plainbooks.some_book(chance, chance.randint(0, 10), chance.randint(1, 6), 6, moves=moves)
             score, book, written = Score(rules), Book(*plain), Written(rules, plain)
             number = written.number()
             paper = paper_of(score, book)
@@ -175,7 +176,8 @@ class FewColumns(Case):
         words = set()
         for _ in range(150):
             rules = plainly.some_rules(chance, chance.randint(1, 12), 30)
-            plain = plainbooks.some_book(chance, 6, chance.randint(1, 4), 5)
+            moves = plainbooks.moves_of(plainly.written(rules)[-1])
+            plain = plainbooks.some_book(chance, 6, chance.randint(1, 4), 5, moves=moves)
             score, book, written = Score(rules), Book(*plain), Written(rules, plain)
             number = written.number()
             paper = written.some_paper(chance)
@@ -321,7 +323,7 @@ class Tables(Case):
         for _ in range(150):
             rules = plainly.some_rules(chance, chance.randint(1, 12))
             rows = plainly.written(rules)
-            plain = plainbooks.some_book(chance, chance.randint(0, 16), chance.randint(1, 24), 8)
+            plain = plainbooks.some_book(chance, chance.randint(0, 16), chance.randint(1, 24), 8, moves=plainbooks.moves_of(rows[-1]))
             score, book = Score(rules), Book(*plain)
             for _ in range(6):
                 rule = chance.randrange(len(rules))

@@ -10,6 +10,7 @@ from counterheld.errors import ScoreError
 from counterheld.extents import highest, lowest, signatures, widest
 from counterheld.gaps import blocked, filling_at, filling_count
 from counterheld.lines import note, note_at, note_count, notes_by_tone
+from counterheld.moments import columns
 from counterheld.papers import paper_of, shows
 from counterheld.refrains import refrain_count
 from counterheld.scores import BadScore, Score
@@ -87,7 +88,8 @@ class Same(Case):
 
     def check(self, chance, scores):
         count = scores[0].count
-        plain = plainbooks.some_book(chance, 10, chance.choice((1, 6, 24)), 8)
+        moves = plainbooks.moves_of(columns(scores[0], 0, min(1000, count)))
+        plain = plainbooks.some_book(chance, 10, chance.choice((1, 6, 24)), 8, moves=moves)
         book = Book(*plain)
         numbers = {0, 1, count // 2, count - 1, chance.randrange(count)}
         parts = [(0, count), (-1, 2), (count, count), (0, count + 1), (0, 0)]
@@ -141,10 +143,10 @@ class Same(Case):
         chance = random.Random(141)
         for _ in range(30):
             rules = plainly.some_rules(chance, chance.randint(1, 14), 150)
-            columns = plainly.written(rules)[-1]
+            row = plainly.written(rules)[-1]
             scores = [Score(rules)] + others(chance, rules)
-            if fits_in_bars(columns):
-                scores.append(Score(in_bars(columns)))
+            if fits_in_bars(row):
+                scores.append(Score(in_bars(row)))
             self.check(chance, scores)
 
     def test_many_columns(self):
