@@ -7,6 +7,8 @@ from counterheld.tables import tables_of
 from counterheld.views import is_view, plain_view, seen, view_below
 
 MOST_ROWS = 10 ** 6
+# For each word how many things a reason has.
+REASONS = {"one": 1, "bar": 1, "join": 3, "within": 2, "again": 2}
 
 
 class PaperJudge:
@@ -105,10 +107,6 @@ class PaperJudge:
         if rule[0] != "times" or one[0] != number or one[3] != view or one[4] != table:
             return False
         return stop - first == one[2] - one[1] and (first - one[1]) % self.plan.sizes[rule[1]] == 0
-
-
-# For each word how many things a reason has.
-REASONS = {"one": 1, "bar": 1, "join": 3, "within": 2, "again": 2}
 
 
 def _is_table(thing):

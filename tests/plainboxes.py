@@ -29,18 +29,26 @@ def some_marked_box(chance, voices, bars, most=3):
     return tuple(told)
 
 
-def some_moving_book(chance, bars, states, often):
-    """A book that goes from state to state by the bars of such a box, up to nine of them, and sometimes by other things."""
-    tests = tuple(("accent", number) for number in range(bars)) + tuple(plainbooks.some_test(chance) for _ in range(3))
+def some_moving_book(chance, box, states, often, ends=()):
+    """A book that goes from state to state by the bars of such a box, up to nine of them.
+
+    It goes by what happens at the first columns of bars, too; ends are columns that may stand around the bars.
+    """
+    bars = len(box)
+    before = [plainly.plain_column(bar[-1]) for bar in box] + list(ends)
+    behind = [plainly.plain_column(bar[0]) for bar in box] + list(ends)
+    tests = tuple(("accent", number) for number in range(bars))
+    tests += tuple(plainbooks.test_of_move(chance, chance.choice(before), chance.choice(behind)) for _ in range(5))
 
     def some_choice(number):
-        unwanted = (chance.randrange(bars, bars + 3),) * (chance.random() < 0.2)
-        return ((number,), unwanted, chance.randrange(states), chance.random() < often)
+        others = [(chance.randrange(bars, bars + 5),) * (chance.random() < 0.3) for _ in range(2)]
+        return ((number,) + others[0], others[1], chance.randrange(states), chance.random() < often)
 
     def some_state():
-        return tuple(some_choice(number) for number in chance.sample(range(bars), bars)) + (((), (number_of_others,), chance.randrange(states), False),) * (chance.random() < 0.3)
+        told = [some_choice(number) for number in chance.sample(range(bars), bars)]
+        told += [((chance.randrange(bars, bars + 5),), (), chance.randrange(states), chance.random() < 0.2)] * (chance.random() < 0.3)
+        return tuple(told + [((), (), chance.randrange(states), False)] * (chance.random() < 0.3))
 
-    number_of_others = bars + chance.randrange(3)
     return tests, tuple(some_state() for _ in range(states))
 
 

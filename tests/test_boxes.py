@@ -79,6 +79,12 @@ class ShortWords(Case):
             box = plainboxes.some_box(chance, voices, bars)
             self.check(box, plainbooks.some_book(chance, chance.randint(0, 8), chance.randint(1, 24), 5), 4 if bars < 4 else 3)
 
+    def test_books_that_go_by_the_last_columns(self):
+        chance = random.Random(98)
+        for _ in range(60):
+            box = plainboxes.some_marked_box(chance, chance.randint(1, 3), chance.randint(2, 3), 3)
+            self.check(box, plainboxes.some_moving_book(chance, box, 3, 0.3), 4 if len(box) < 3 else 3)
+
     def test_twelve_bars(self):
         chance = random.Random(94)
         box = plainboxes.some_box(chance, 2, 12)
@@ -178,7 +184,7 @@ class Ends(Case):
         for _ in range(250):
             bars = chance.randint(1, 3)
             box = plainboxes.some_marked_box(chance, chance.randint(1, 2), bars, 2)
-            plain = plainboxes.some_moving_book(chance, bars, chance.randint(2, 9), chance.choice((0.2, 0.5, 0.8)))
+            plain = plainboxes.some_moving_book(chance, box, chance.randint(2, 9), chance.choice((0.2, 0.5, 0.8)))
             book = Book(*plain)
             many = longest(box, book)
             told = endless(box, book)
@@ -251,6 +257,11 @@ class Ends(Case):
         self.assert_answer(((0,), (0, 0, 0)), endless, BOX, Book(tests, states))
         states = (((one, (), 0, True), (two, (), 0, False)),)
         self.assert_answer(((1,), (1,)), endless, BOX, Book(tests, states))
+        # At one length of the word ahead first a round of two, then a round of one.
+        both = ((), (), 1, False), ((), (), 2, False)
+        states = ((both[0],), (both[1],), ((one, (), 3, False), (two, (), 5, False)))
+        states += (((one, (), 4, False), ((), (), 0, True)), ((one, (), 3, False), ((), (), 0, True)), ((two, (), 5, False), ((), (), 0, True)))
+        self.assert_answer(((0, 0, 1), (1,)), endless, BOX, Book(tests, states))
         # A round of two through both bars, which can be gone into at either one.
         states = (((one, (), 1, False), (two, (), 2, False)), ((one, (), 0, True), (two, (), 2, False)), ((one, (), 1, False), (two, (), 0, True)))
         self.assert_answer(((0,), (1, 0)), endless, BOX, Book(tests, states))

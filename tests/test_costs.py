@@ -35,8 +35,8 @@ class ByCost(Case):
             self.assert_answer(wanted[0] if wanted else None, cheapest, gap, book, costs)
             for index, told in enumerate(wanted):
                 self.assert_same(told, filling_by_cost(gap, book, list(costs), index))
-            for index in (len(wanted), len(wanted) + 1, 1000):
-                if index >= len(wanted):
+            for index in (len(wanted), len(wanted) + 1, 1000, -1):
+                if not 0 <= index < len(wanted):
                     self.assert_answer(None, filling_by_cost, gap, book, costs, index)
             met += len(wanted) > 3
         self.assertGreater(met, 30)
@@ -68,7 +68,7 @@ class ByCost(Case):
         chance = random.Random(122)
         for _ in range(3):
             box = plainboxes.some_marked_box(chance, 2, 9, 8)
-            book = Book(*plainboxes.some_moving_book(chance, 9, 24, 0.1))
+            book = Book(*plainboxes.some_moving_book(chance, box, 24, 0.1))
             ahead, behind = [Score((("bar", plainly.some_bar(chance, 2, 8)), ("times", 0, 10 ** 11))) for _ in range(2)]
             behind = Score((("bar", plainly.some_bar(chance, 2, 2)),))
             gap = (ahead, box, 400, behind)

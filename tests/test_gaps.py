@@ -38,8 +38,9 @@ def some_gap(chance, many, middle=False, often=None, least=0):
     box = plainboxes.some_marked_box(chance, voices, bars, 2)
     scores = [some_score(chance, voices) for _ in range(3 if middle else 2)]
     number = chance.randint(least, many)
-    plain = plainboxes.some_moving_book(chance, bars, chance.randint(1, 5), often or chance.choice((0.1, 0.3, 0.5)))
     rows = [plainly.written(rules)[-1] for rules in scores]
+    ends = [column for row in rows for column in (row[0], row[-1])]
+    plain = plainboxes.some_moving_book(chance, box, chance.randint(1, 5), often or chance.choice((0.1, 0.3, 0.5)), ends)
     told = plainboxes.Gap(rows[0], box, number, rows[-1], plain, rows[1] if middle else None)
     made = [Score(rules) for rules in scores]
     row = (made[0], box, number) + tuple(made[1:])
@@ -76,7 +77,7 @@ class Fillings(Case):
         self.assert_answer(2, filling_count, gap, BOOK)
         self.assert_answer((0, 1, 0), filling_at, gap, BOOK, 1)
         self.assert_answer(1, filling_index, gap, BOOK, [0, 1, 0])
-        for word in ((0, 2, 0), (0, -1, 0), (0, 12, 0), (0, 10 ** 40, 0), (0, 0), (0, 0, 0, 0), (), (1, 0, 0), (0, 0, 1)):
+        for word in ((0, 2, 0), (0, -1, 0), (0, 12, 0), (0, 10 ** 40, 0), (0, 0), (0, 0, 0, 0), (), (1, 0, 0), (0, 0, 1), None, 3, "000", {0: 0}):
             self.assert_answer(None, filling_index, gap, BOOK, word)
 
     def test_what_is_broken_ahead_says_nothing(self):
@@ -108,7 +109,7 @@ class Fillings(Case):
             score = Score(rules)
             bars = chance.randint(1, 3)
             box = plainboxes.some_marked_box(chance, voices, bars, 3)
-            book = Book(*plainboxes.some_moving_book(chance, bars, 6, 0.05))
+            book = Book(*plainboxes.some_moving_book(chance, box, 6, 0.05))
             short = Score((("bar", plainly.some_bar(chance, voices, 3)),))
             for ahead, behind in ((score, short), (short, score), (score, score)):
                 found = []

@@ -55,7 +55,7 @@ def pairs(chance, many):
     for _ in range(many):
         bars = chance.randint(1, 3)
         box = plainboxes.some_marked_box(chance, chance.randint(1, 3), bars, 2)
-        one = plainboxes.some_moving_book(chance, bars, chance.randint(1, 8), chance.choice((0.2, 0.5)))
+        one = plainboxes.some_moving_book(chance, box, chance.randint(1, 8), chance.choice((0.2, 0.5)))
         way = chance.randrange(6)
         if way == 0:
             other = plainbooks.some_book(chance, 5, 3, 4, often=0.3)

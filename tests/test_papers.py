@@ -178,6 +178,9 @@ class FewColumns(Case):
             rules = plainly.some_rules(chance, chance.randint(1, 12), 30)
             moves = plainbooks.moves_of(plainly.written(rules)[-1])
             plain = plainbooks.some_book(chance, 6, chance.randint(1, 4), 5, moves=moves)
+            if chance.random() < 0.4:
+                # All tables are alike, so that just the reasons tell right from wrong.
+                plain = ((), ((),))
             score, book, written = Score(rules), Book(*plain), Written(rules, plain)
             number = written.number()
             paper = written.some_paper(chance)
@@ -193,7 +196,7 @@ class FewColumns(Case):
         chance = random.Random(83)
         for _ in range(40):
             rules = plainly.some_rules(chance, 8, 20)
-            plain = plainbooks.some_book(chance, 6, 3, 5)
+            plain = chance.choice((plainbooks.some_book(chance, 6, 3, 5), ((), ((),))))
             score, book, written = Score(rules), Book(*plain), Written(rules, plain)
             number, paper = written.number(), written.some_paper(chance)
             for k in range(len(paper)):
@@ -234,6 +237,52 @@ class FewColumns(Case):
         ):
             self.assertFalse(written.shows(base + (wrong,) + end, 1), wrong)
             self.assert_answer(False, shows, score, book, base + (wrong,) + end, 1)
+
+    def test_reasons_where_all_tables_are_alike(self):
+        rules = (("bar", bar(0, 0)), ("times", 0, 4), ("cut", 1, 1, 7), ("then", 0, 0), ("raise", 3, (1, 0)), ("turn", 3, (1, 0)), ("then", 0, 3), ("bar", bar(0, 0)))
+        written = Written(rules, ((), ((),)))
+        score, book = Score(rules), Book((), ((),))
+        view, other_view = (1, (0,)), (-1, (0,))
+
+        def row(rule, first, stop, *reason, seen=view):
+            return (rule, first, stop, seen, ((0, 0),), reason)
+
+        base = (row(0, 0, 2, "bar"), row(0, 0, 1, "one"), row(1, 0, 2, "within", 0), row(1, 0, 1, "within", 1), row(3, 0, 2, "within", 0))
+        base += (row(3, 2, 4, "within", 0), row(3, 0, 4, "join", 4, 5), row(0, 0, 2, "bar", seen=other_view))
+        end = (row(7, 0, 2, "bar"),)
+        self.assert_answer(True, shows, score, book, base + end, 0)
+        kinds = [(rule, first, stop) for rule in range(7) for first in range(3) for stop in range(first + 1, 5) if stop <= len(written.rows[rule])]
+        reasons = [("one",), ("bar",)] + [(word, a) for word in ("within", "again") for a in range(-1, 9)] + [("join", a, b) for a in (2, 4, 0) for b in (2, 5, 3)]
+        met = {True: 0, False: 0}
+        for rule, first, stop in kinds:
+            for reason in reasons:
+                for seen in (view, other_view):
+                    paper = base + (row(rule, first, stop, *reason, seen=seen),) + end
+                    wanted = written.shows(paper, 0)
+                    met[wanted] += 1
+                    self.assertEqual(wanted, shows(score, book, paper, 0), paper[-2])
+        self.assertGreater(min(met.values()), 40)
+
+    def test_rows_that_rest_on_themselves_or_later_ones(self):
+        score, book = Score((("bar", bar(0, 1)), ("times", 0, 1))), Book((), ((),))
+        view, table = (1, (0,)), ((0, 0),)
+        bars, whole = (0, 0, 2, view, table, ("bar",)), (1, 0, 2, view, table, ("within", 0))
+        self.assert_answer(True, shows, score, book, (bars, whole), 0)
+        for number in (-2, -1, 0, 1, 2):
+            again = (1, 0, 2, view, table, ("again", number))
+            self.assert_answer(False, shows, score, book, (again,), 0)
+            self.assert_answer(False, shows, score, book, (again, bars, (1, 0, 2, view, table, ("within", 1))), 0)
+            self.assert_answer(False, shows, score, book, (bars, again), 0)
+            self.assert_answer(number in (1, 2), shows, score, book, (bars, whole, whole, again), 0)
+            self.assert_answer(False, shows, score, book, ((1, 0, 2, view, table, ("within", number)), bars), 0)
+
+    def test_true_for_the_number(self):
+        for accents, number in (((0, 0), 0), ((0, 1), 1)):
+            score, book = Score((("bar", bar(*accents)),)), Book((("accent", 1),), ((((0,), (), 0, True),),))
+            paper = paper_of(score, book)
+            self.assert_answer(True, shows, score, book, paper, number)
+            for thing in (True, False, None, str(number), (number,), [number]):
+                self.assert_answer(False, shows, score, book, paper, thing)
 
     def test_the_last_row(self):
         rules = (("bar", bar(1, 1)), ("turn", 0, (0, 8)))

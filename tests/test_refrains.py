@@ -109,8 +109,8 @@ class Refrains(Case):
             many += not broken
         self.assert_answer(many, refrain_count, (zero, BOX, 10, zero, zero), book)
         chance = random.Random(133)
-        box = tuple(plainly.some_bar(chance, 2, 8) for _ in range(12))
-        great = Book(*plainboxes.some_moving_book(chance, 9, 24, 0.02))
+        box = plainboxes.some_marked_box(chance, 2, 9, 8)
+        great = Book(*plainboxes.some_moving_book(chance, box, 24, 0.02))
         scores = [Score((("bar", bar),)) for bar in box[:3]]
         refrain = (scores[0], box, 16, scores[1], scores[2])
         many = refrain_count(refrain, great)

@@ -127,7 +127,8 @@ class Same(Case):
     def check_gaps(self, chance, scores):
         voices = scores[0].voices
         box = plainboxes.some_marked_box(chance, voices, 2, 2)
-        book = Book(*plainboxes.some_moving_book(chance, 2, 4, 0.1))
+        ends = [column for n in (0, scores[0].count - 1) for column in columns(scores[0], n, n + 1)]
+        book = Book(*plainboxes.some_moving_book(chance, box, 4, 0.1, ends))
         other = Score((("bar", plainly.some_bar(chance, voices, 3)),))
         for gap_of in (lambda score: (score, box, 3, other), lambda score: (other, box, 3, score), lambda score: (score, box, 3, score)):
             self.agree(scores, lambda score: filling_count(gap_of(score), book))
