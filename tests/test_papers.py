@@ -139,6 +139,24 @@ class Example(Case):
         self.assert_answer(False, shows, self.score, self.book, self.PAPER[:-1] + (wrong,) + self.PAPER[-1:], 6)
         self.assert_answer(True, shows, self.score, self.book, self.PAPER + self.PAPER[-1:], 6)
 
+    def test_wrong_rows_that_nothing_needs(self):
+        row = (1, 1, 2, (-1, (1, 0)), ((0, 0),), ("one",))
+        wrong = [(rule,) + row[1:] for rule in (-1, -5, 5, 10 ** 40, True, None)]
+        wrong += [row[:1] + part + row[3:] for part in ((-1, 0), (-1, 1), (0, 0), (0, -1), (2, 3), (1, 1), (1, 0), (0, 2), (True, 2), (0, True))]
+        views = [(sign, (1, 0)) for sign in (0, 2, -2, 3, 10 ** 40, True, None, "1", (1,))]
+        views += [(1, order) for order in ((0, 0), (1, 1), (0, 2), (2, 0), (-1, 0), (1, -1), (0,), (0, 1, 2), (), (0, True), (False, 1), (None, 0), [0, 1], "01", None, 0)]
+        wrong += [row[:3] + (view,) + row[4:] for view in views + [(1,), (1, (0, 1), 0), [1, (0, 1)], None, ()]]
+        wrong += [row[:4] + (table,) + row[5:] for table in (((0, 1),), ((1, 0),), ((0, 0), (1, 0)), (), ((0, 0, 0),), ((0,),), ((False, 0),), ((0, False),), [(0, 0)], ([0, 0],), None)]
+        wrong += [row[:5] + (reason,) for reason in (("two",), ("one", 0), ("bar",), (), None, ["one"], "one", ("within", 0), (0,))]
+        plain = Written(self.rules, self.plain)
+        for other in wrong:
+            paper = self.PAPER[:-1] + (other,) + self.PAPER[-1:]
+            self.assertFalse(plain.shows(paper, 6), other)
+            self.assert_answer(False, shows, self.score, self.book, paper, 6)
+        for view in ((1, (0, 1)), (1, (1, 0)), (-1, (0, 1)), (-1, (1, 0))):
+            paper = self.PAPER[:-1] + (row[:3] + (view,) + row[4:],) + self.PAPER[-1:]
+            self.assert_answer(True, shows, self.score, self.book, paper, 6)
+
     def test_anything(self):
         for thing in ANYTHING:
             for number in (6, 0, None, True, "6", (), deep(44)):
@@ -170,6 +188,21 @@ class FewColumns(Case):
             self.assert_answer(True, shows, score, book, paper, number)
             for other in (number + 1, number - 1, -number, None):
                 self.assert_answer(other == number, shows, score, book, paper, other)
+
+    def test_over_ends_of_rules(self):
+        """Moves out of one rule into another one that raises, turns, paces or exchanges, by the tests that just hold of them."""
+        columns = (((1, 4), 1, ((C, True), ((1, 4), True))), ((1, 3), 0, (((3, 2), True), ((-2, 5), True))))
+        rows = (("raise", (3, -1)), ("raise", (0, 1)), ("turn", (2, 7)), ("turn", (0, 8)), ("pace", (3, 5)), ("voices", (1, 0)))
+        chance = random.Random(88)
+        for one in rows:
+            for other in rows:
+                rules = (("bar", columns), (one[0], 0, one[1]), (other[0], 1, other[1]), ("then", 0, 2), ("then", 3, 1), (one[0], 4, one[1]), ("then", 5, 0), ("then", 6, 4), ("times", 7, 3))
+                for move in plainbooks.moves_of(plainly.written(rules)[-1])[:14]:
+                    plain = (plainbooks.test_of_move(chance, *move), plainbooks.test_of_move(chance, *move)), ((((0, 1), (), 1, True),), (((0,), (), 0, False),))
+                    written = Written(rules, plain)
+                    paper = paper_of(Score(rules), Book(*plain))
+                    self.assertTrue(written.shows(paper, written.number()))
+                    self.assertTrue(shows(Score(rules), Book(*plain), paper, written.number()))
 
     def test_papers_made_otherwise(self):
         chance = random.Random(82)
