@@ -1,10 +1,9 @@
 """Judging papers about broken columns, row by row."""
 
 from counterheld.kinds import is_whole
-from counterheld.moments import Written
 from counterheld.steps import silence, table_behind
 from counterheld.tables import tables_of
-from counterheld.views import is_view, plain_view, seen, view_below
+from counterheld.views import is_view, plain_view, seen_column, view_below
 
 MOST_ROWS = 10 ** 6
 # For each word how many things a reason has.
@@ -19,12 +18,12 @@ class PaperJudge:
         self.plan = score.plan
         self.steps = book.steps
         self.tables = tables_of(score, book)
-        self.written = Written(score.plan)
         self.joints = {}
+        self.latest = (None, None)
 
     def shown(self, paper):
         """The number of broken columns that a right paper shows."""
-        column = seen(self._column(self.plan.last(), 0), plain_view(self.score.voices))[0]
+        column = self._column(self.plan.last(), 0, plain_view(self.score.voices))
         state, broken = self.steps.step(silence(self.score.voices), column)[0]
         return paper[-1][4][state][1] + int(broken)
 
@@ -81,14 +80,17 @@ class PaperJudge:
         """The step into the column middle of the rule from the one ahead of it, seen in the view."""
         key = (rule, middle, view)
         if key not in self.joints:
-            ends = self._column(rule, middle - 1) + self._column(rule, middle)
-            before, column = seen(ends, view)
-            self.joints[key] = self.steps.step(before, column)
+            before = self._column(rule, middle - 1, view)
+            self.joints[key] = self.steps.step(before, self._column(rule, middle, view))
         return self.joints[key]
 
-    def _column(self, rule, number):
-        """The tuple of the one column with the number that the rule makes."""
-        return self.written.of(rule, number, number + 1)
+    def _column(self, rule, number, view):
+        """The column with the number that the rule makes, seen in the view."""
+        key = (rule, number, view)
+        # The column behind one joint is mostly the one ahead of the next joint.
+        if self.latest[0] != key:
+            self.latest = (key, seen_column(self.plan, rule, number, view))
+        return self.latest[1]
 
     def _is_within(self, row, one):
         number, first, stop, view, table, _ = row

@@ -124,18 +124,30 @@ class Plan:
             by = product(by, pace_of(rule))
         return sum_of(moment, product(total_duration(self.rules[number][1][:ahead]), by))
 
+    def place_below(self, number, at):
+        """The rule, and the number of the column in it, from which a rule that is no bar takes its column at."""
+        rule = self.rules[number]
+        i = rule[1]
+        if rule[0] == "then" and at >= self.sizes[i]:
+            return rule[2], at - self.sizes[i]
+        if rule[0] == "times":
+            return i, at % self.sizes[i]
+        if rule[0] == "cut":
+            return i, at + rule[2]
+        return i, at
+
     def _way_by_number(self, number, ahead):
         """The duration ahead of the copy or part that is gone into, its rule, and how many columns are ahead in it."""
         rule = self.rules[number]
-        i = rule[1]
-        if rule[0] == "then" and ahead >= self.sizes[i]:
-            return self.durations[i], rule[2], ahead - self.sizes[i]
+        below, rest = self.place_below(number, ahead)
+        skipped = (0, 1)
+        if rule[0] == "then" and ahead >= self.sizes[rule[1]]:
+            skipped = self.durations[rule[1]]
         if rule[0] == "times":
-            copies, rest = divmod(ahead, self.sizes[i])
-            return product(self.durations[i], (copies, 1)), i, rest
+            skipped = product(self.durations[rule[1]], (ahead // self.sizes[rule[1]], 1))
         if rule[0] == "cut":
-            return product(self.starts[number], (-1, 1)), i, ahead + rule[2]
-        return (0, 1), i, ahead
+            skipped = product(self.starts[number], (-1, 1))
+        return skipped, below, rest
 
     def column_at(self, number, moment):
         """The number of the column of a rule in which a moment, from 0 to below its duration, lies."""

@@ -1,6 +1,7 @@
 """Views of columns: turned about the tone (0, 0) or not, with the voices in an order."""
 
-from counterheld.columns import exchanged, turned
+from counterheld.columns import exchanged, paced, raised, turned
+from counterheld.fractions import product
 from counterheld.kinds import is_whole
 
 
@@ -14,6 +15,22 @@ def seen(columns, view):
     sign, order = view
     told = exchanged(columns, order)
     return turned(told, (0, 0)) if sign < 0 else told
+
+
+def seen_column(plan, number, at, view):
+    """The column with the number at that a rule makes, as it is seen in the view."""
+    f, o, by = 0, 0, (1, 1)
+    while plan.rules[number][0] != "bar":
+        rule = plan.rules[number]
+        if rule[0] in ("raise", "turn"):
+            # Seen upside down, what is raised is lowered; a turn is one of the view, and raises by the rest.
+            f, o = f + view[0] * rule[2][0], o + view[0] * rule[2][1]
+        if rule[0] == "pace":
+            by = product(by, rule[2])
+        view = view_below(rule, view)
+        number, at = plan.place_below(number, at)
+    column = plan.rules[number][1][at]
+    return paced(raised(seen([column], view), (f, o)), by)[0]
 
 
 def view_below(rule, view):

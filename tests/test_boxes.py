@@ -10,7 +10,7 @@ from counterheld.boxes import BadBox, endless, lets_word, longest, word_at, word
 from counterheld.broken import lets
 from counterheld.moments import columns
 from counterheld.scores import Score
-from tests import plainbooks, plainboxes, plainly
+from tests import plainbooks, plainboxes
 from tests.checks import Case
 from tests.plainpapers import deep
 

@@ -3,7 +3,6 @@
 import random
 import unittest
 
-from counterheld.bartexts import read_bar
 from counterheld.books import Book
 from counterheld.costs import cheapest, filling_by_cost, potentials, shows_least
 from counterheld.gaps import filling_count, filling_index

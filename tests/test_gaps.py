@@ -3,15 +3,17 @@
 import random
 import unittest
 
-from counterheld import costs, gaps
+from counterheld import costs
 from counterheld.bartexts import read_bar
-from counterheld.books import Book
+from counterheld.books import Book, moved
 from counterheld.boxes import word_count
-from counterheld.broken import broken_in
+from counterheld.broken import broken_in, state_behind
 from counterheld.gaps import BadGap, blocked, filling_at, filling_count, filling_index, is_blocked_by
+from counterheld.moments import column
+from counterheld.papers import table_of
 from counterheld.refrains import refrain_at, refrain_count
 from counterheld.scores import Score
-from tests import plainbooks, plainboxes, plainly
+from tests import plainboxes, plainly
 from tests.checks import Case
 from tests.plainpapers import changed_within, deep
 
@@ -123,16 +125,13 @@ class Fillings(Case):
 
     def is_filled(self, ahead, box, word, behind, book):
         """By one score of all three, the last rules of the scores and the bars one behind another."""
-        kept, base = [("bar", plainboxes.columns_of(box, word))], ahead.rules
-        rules = list(base) + [kept[0], ("then", len(base) - 1, len(base))]
-        last, start = len(rules) - 1, len(rules)
-        moved = [self.moved(rule, start) for rule in behind.rules]
-        rules += moved + [("then", last, start + len(moved) - 1)]
-        if len(rules) > 60:
-            # So many rules make no score: the two halves are asked one behind the other.
-            return self.is_filled_in_two(ahead, box, word, behind, book)
-        if ahead.count + behind.count > 10 ** 11:
-            return self.is_filled_in_two(ahead, box, word, behind, book)
+        many = len(ahead.rules)
+        rules = list(ahead.rules) + [("bar", plainboxes.columns_of(box, word)), ("then", many - 1, many)]
+        rules += [self.moved(rule, many + 2) for rule in behind.rules]
+        rules.append(("then", many + 1, len(rules) - 1))
+        if len(rules) > 60 or ahead.count + behind.count > 10 ** 11:
+            # They make no score, but can be gone through one behind the other.
+            return self.is_filled_in_turn(ahead, box, word, behind, book)
         score = Score(rules)
         return broken_in(score, book, ahead.count, score.count) == 0
 
@@ -140,12 +139,7 @@ class Fillings(Case):
         numbers = {"bar": 0, "then": 2}.get(rule[0], 1)
         return rule[:1] + tuple(i + by for i in rule[1:1 + numbers]) + rule[1 + numbers:]
 
-    def is_filled_in_two(self, ahead, box, word, behind, book):
-        from counterheld.books import moved
-        from counterheld.broken import state_behind
-        from counterheld.moments import column
-        from counterheld.papers import table_of
-
+    def is_filled_in_turn(self, ahead, box, word, behind, book):
         state, before = state_behind(ahead, book, ahead.count - 1), column(ahead, ahead.count - 1)
         for other in plainboxes.columns_of(box, word) + [column(behind, 0)]:
             state, is_broken = moved(book, state, before, other)

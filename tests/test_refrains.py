@@ -8,7 +8,7 @@ from counterheld.boxes import word_score
 from counterheld.broken import broken_in
 from counterheld.refrains import refrain_at, refrain_count
 from counterheld.scores import Score
-from tests import plainboxes, plainly
+from tests import plainboxes
 from tests.checks import Case
 from tests.test_gaps import ALL, BOOK, BOX, NOTHING, ONE, some_gap
 
