@@ -120,6 +120,6 @@ def _is_table(thing):
             return False
         state, many = pair
         # True would be equal to 1.
-        if type(state) is not int or type(many) is not int:
+        if type(state) != int or type(many) != int:
             return False
     return True

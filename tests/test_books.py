@@ -149,7 +149,7 @@ class Tests(Case):
     def test_of_chance(self):
         chance = random.Random(61)
         met = {word: set() for word in plainbooks.WORDS}
-        for _ in range(6000):
+        for _ in range(12000):
             voices = chance.randint(1, 4)
             tones = [plainly.some_tone(chance, 2) for _ in range(2)]
             one, other = [((1, chance.randint(1, 3)), chance.choice((0, 1)), tuple(plainly.some_entry(chance, tones) for _ in range(voices))) for _ in range(2)]

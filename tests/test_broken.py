@@ -225,7 +225,7 @@ class ManyColumns(Case):
         chance = random.Random(76)
         for _ in range(20):
             rules, counts = plainly.great_rules(chance, chance.choice((6, 25, 60)))
-            last, numbers = len(rules) - 1, [chance.randrange(counts[-1] - 1) for _ in range(20)] + [size for size in counts if size < counts[-1]]
+            last, numbers = len(rules) - 1, [chance.randrange(counts[-1]) for _ in range(20)] + counts
             moves = [(plainly.column_of(rules, counts, last, n), plainly.column_of(rules, counts, last, n + 1)) for n in numbers if n + 1 < counts[-1]]
             self.check(chance, rules, counts, plainbooks.some_book(chance, 12, chance.choice((1, 5, 24)), 8, moves=moves))
 

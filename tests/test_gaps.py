@@ -72,7 +72,7 @@ class Fillings(Case):
             plain, gap, book = some_gap(chance, 4)
             wanted = self.check(plain, gap, book)
             met.add((plain.number == 0, len(wanted) == 0, len(wanted) == len(plain.box) ** plain.number))
-        self.assertGreater(len(met), 4)
+        self.assertGreater(len(met), 3)
 
     def test_lists_and_numbers_that_are_no_bars(self):
         gap = [ONE, [[list(column) for column in bar] for bar in BOX], 3, ONE]

@@ -126,10 +126,9 @@ class Language(unittest.TestCase):
                 if isinstance(node, (ast.FunctionDef, ast.ClassDef)):
                     self.assertEqual([], node.decorator_list)
                 if isinstance(node, ast.Compare) and isinstance(node.ops[0], (ast.Is, ast.IsNot)):
-                    if not re.match(r"type\(\w+\) is (not )?int$", ast.unparse(node)):
-                        self.assertIn(ast.unparse(node.comparators[0]), ("None", "True", "False"))
+                    self.assertIn(ast.unparse(node.comparators[0]), ("None", "True", "False"))
                 if isinstance(node, ast.Call) and ast.unparse(node.func) == "type":
-                    self.assertRegex(text, rf"type\({ast.unparse(node.args[0])}\) is ")
+                    self.assertIn(f"{ast.unparse(node)} != int", text)
                 if isinstance(node, ast.BinOp) and isinstance(node.op, ast.Pow):
                     self.assertIn(node.right.value, range(65))
 

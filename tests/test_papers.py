@@ -372,8 +372,8 @@ class ManyColumns(Case):
         while len(rules) < 42:
             count = Score(rules).count
             rules += [("cut", len(rules) - 1, 1 + chance.randrange(count // 9), count - chance.randrange(count // 9)), ("then", len(rules), len(rules) - chance.randint(1, 2))]
-            if Score(rules).count > 10 ** 10:
-                rules += [("cut", len(rules) - 1, chance.randrange(10 ** 9), 2 * 10 ** 9), ("times", len(rules), 3)]
+            if Score(rules).count > 10 ** 9:
+                rules += [("cut", len(rules) - 1, chance.randrange(10 ** 8), 2 * 10 ** 8), ("times", len(rules), 3)]
         for order in ((1, 0, 2, 3), (0, 2, 1, 3), (0, 1, 3, 2), (1, 0, 2, 3), (0, 2, 1, 3), (1, 0, 2, 3)):
             rules += [("voices", len(rules) - 1, order), ("then", len(rules) - 1, len(rules))]
         rules += [("turn", len(rules) - 1, (0, 8)), ("then", len(rules) - 1, len(rules))]
