@@ -26,8 +26,10 @@ def _notes(score):
     return score.plan.keep("notes", Notes(score.plan)) if fold is None else fold
 
 
-def _count_ahead(score, voice, stop):
-    """How many notes of the voice begin in the columns ahead of stop, at least one."""
+def notes_ahead(score, voice, stop):
+    """How many notes of the voice begin in the columns ahead of stop."""
+    if stop == 0:
+        return 0
     _, first, _, many, _ = _notes(score).of(score.plan.last(), 0, stop, voice)
     # Ahead of the first column all voices are silent.
     return many if first is None else many + 1
@@ -35,23 +37,28 @@ def _count_ahead(score, voice, stop):
 
 def note_count(score, voice):
     check_voice(score, voice)
-    return _count_ahead(score, voice, score.count)
+    return notes_ahead(score, voice, score.count)
 
 
 def note(score, voice, number):
     """The tuple (column, tone, length) of a note."""
     check_voice(score, voice)
-    if not 0 <= number < _count_ahead(score, voice, score.count):
+    if not 0 <= number < notes_ahead(score, voice, score.count):
         raise NoNote("no such note")
     notes = _notes(score)
     plan = score.plan
     start = 0
-    if number >= _count_ahead(score, voice, 1):
-        start = notes.marked_at(voice, None, number - _count_ahead(score, voice, 1))
+    if number >= notes_ahead(score, voice, 1):
+        start = notes.marked_at(voice, None, number - notes_ahead(score, voice, 1))
     tone = notes.of(plan.last(), start, start + 1, voice)[2]
     stop = _end(score, voice, start, tone)
     length = difference(plan.moment_ahead(plan.last(), stop), plan.moment_ahead(plan.last(), start))
     return (start, tone, length)
+
+
+def notes_from(score, voice, first, many):
+    """So many notes from the number first on, which there are."""
+    return [note(score, voice, number) for number in range(first, first + many)]
 
 
 def _end(score, voice, start, tone):
@@ -69,7 +76,7 @@ def note_at(score, voice, column):
     check_column(score, column)
     if _notes(score).of(score.plan.last(), column, column + 1, voice)[2] is None:
         return None
-    return _count_ahead(score, voice, column + 1) - 1
+    return notes_ahead(score, voice, column + 1) - 1
 
 
 def notes_by_tone(score, voice):

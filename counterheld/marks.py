@@ -1,6 +1,6 @@
 """Columns of a score that are marked: how many there are, and where each of them is."""
 
-from counterheld.folds import Fold
+from counterheld.folds import Fold, half_of
 
 
 class Marks(Fold):
@@ -51,8 +51,3 @@ class Marks(Fold):
         if rule[0] == "bar":
             return [(number, k, k + 1, 1) for k in range(first, stop)], way
         return self.plan.pieces(number, first, stop), self.way_below(rule, way)
-
-
-def half_of(many):
-    """The greatest power of two below many, which is at least 2: so that halves are alike as often as may be."""
-    return 1 << ((many - 1).bit_length() - 1)

@@ -1,8 +1,8 @@
 """Papers about the broken columns of a score: tables of parts, each with the reason why it is right."""
 
+from counterheld.folds import half_of
 from counterheld.judging import PaperJudge
 from counterheld.kinds import is_whole
-from counterheld.marks import half_of
 from counterheld.moments import NoColumn
 from counterheld.scores import BadScore
 from counterheld.tables import tables_of

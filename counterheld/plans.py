@@ -114,6 +114,15 @@ class Plan:
             told.append((i, 0, stop % size, 1))
         return told
 
+    def below(self, number):
+        """The pairs (rule below, pace at which it comes) of what a rule is made of."""
+        rule = self.rules[number]
+        if rule[0] == "bar":
+            return []
+        if rule[0] == "then":
+            return [(rule[1], (1, 1)), (rule[2], (1, 1))]
+        return [(rule[1], pace_of(rule))]
+
     def moment_ahead(self, number, ahead):
         """The duration of the first columns of a rule, so many as ahead tells."""
         moment, by = (0, 1), (1, 1)

@@ -1,7 +1,7 @@
 """Tables of a book: what it does in the parts of a score, from each of its states."""
 
 from counterheld.columns import paced, raised
-from counterheld.marks import Marks, half_of
+from counterheld.marks import Marks
 from counterheld.steps import silence, table_behind
 from counterheld.views import plain_view, seen, view_below
 
@@ -25,14 +25,7 @@ class Tables(Marks):
         return (one[0], other[1], table_behind(table, other[2]))
 
     def of_copies(self, number, first, stop, way, many):
-        if many == 1:
-            return self.of(number, first, stop, way)
-        key = (number, first, stop, way, many)
-        if key not in self.parts:
-            half = half_of(many)
-            one = self.of_copies(number, first, stop, way, half)
-            self.parts[key] = self.joined(one, self.of_copies(number, first, stop, way, many - half))
-        return self.parts[key]
+        return self.by_halves(number, first, stop, way, many)
 
     def way_below(self, rule, way):
         return view_below(rule, way)

@@ -171,10 +171,11 @@ def some_rules(chance, many, most=60):
     return tuple(rules)
 
 
-def great_rules(chance, many, most=10 ** 12):
-    """Right rules, so many, that soon make very many columns, and are cut again and again."""
+def great_rules(chance, many, most=10 ** 12, bar=None):
+    """Right rules, so many, that soon make very many columns of a bar, and are cut again and again."""
     voices = chance.randint(1, 4)
-    rules = [("bar", some_bar(chance, voices, 64, parts=30))]
+    rules = [("bar", some_bar(chance, voices, 64, parts=30) if bar is None else bar)]
+    voices = len(rules[0][1][0][2])
     counts = [len(rules[0][1])]
     while len(rules) < many:
         i = chance.choice((len(rules) - 1, len(rules) - 1, chance.randrange(len(rules))))

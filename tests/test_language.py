@@ -56,6 +56,16 @@ INTERFACE = {
     "gaps": ["BadGap", "filling_count", "filling_at", "filling_index", "blocked", "is_blocked_by"],
     "costs": ["cheapest", "filling_by_cost", "potentials", "shows_least"],
     "refrains": ["refrain_count", "refrain_at"],
+    "themes": [
+        "BadTheme", "NoPlace", "theme_count", "theme_place", "theme_in", "theme_of", "kind_count", "commonest", "longest_twice",
+    ],
+    "tempos": ["BadTempo", "time_of", "moment_of_time", "column_time", "column_at_time"],
+    "pulses": ["BadPulse", "meeting", "meetings", "nearest_miss", "beat", "beats", "beats_of"],
+    "breaking": [
+        "BadPieces", "BadRoom", "badness", "best_lines", "breaking_count", "breaking_at", "breaking_index", "line_potentials",
+        "shows_lines", "ends_of", "pieces_of", "turns_of",
+    ],
+    "pages": ["BadTurns", "best_pages", "page_potentials", "shows_pages"],
 }
 ARGUMENTS = {
     "steps": "interval", "height": "interval", "added": "one other", "opposite": "interval", "between": "one other",
@@ -81,7 +91,17 @@ ARGUMENTS = {
     "filling_at": "gap book index", "filling_index": "gap book word", "blocked": "gap book",
     "is_blocked_by": "gap book paper", "cheapest": "gap book costs", "filling_by_cost": "gap book costs index",
     "potentials": "gap book costs", "shows_least": "gap book costs told cost", "refrain_count": "refrain book",
-    "refrain_at": "refrain book index",
+    "refrain_at": "refrain book index", "theme_count": "score voice theme manner",
+    "theme_place": "score voice theme manner number", "theme_in": "score voice theme manner first stop",
+    "theme_of": "score voice note many", "kind_count": "score voice many upside", "commonest": "score voice many upside",
+    "longest_twice": "score voice upside", "time_of": "tempos period moment", "moment_of_time": "tempos period time",
+    "column_time": "score tempos period number", "column_at_time": "score tempos period time", "meeting": "pulses",
+    "meetings": "pulses until", "nearest_miss": "one other", "beat": "pulses number", "beats": "pulses until",
+    "beats_of": "pulses until many", "badness": "pieces first stop room", "best_lines": "pieces room",
+    "breaking_count": "pieces room", "breaking_at": "pieces room index", "breaking_index": "pieces room ends",
+    "line_potentials": "pieces room", "shows_lines": "pieces room told total", "ends_of": "score book states first stop",
+    "pieces_of": "score first ends base", "turns_of": "score first ends", "best_pages": "pieces room turns least most",
+    "page_potentials": "pieces room turns least most", "shows_pages": "pieces room turns least most told total",
 }
 
 

@@ -1,19 +1,22 @@
-"""Promise [0.2]: scores with the same columns by other rules tell the same, for parts D to G and I."""
+"""Promise [0.2]: scores with the same columns by other rules tell the same, for parts D to G and I to L."""
 
 import random
 import unittest
 
 from counterheld.books import Book
+from counterheld.breaking import ends_of, pieces_of, turns_of
 from counterheld.broken import broken, broken_count, broken_in, first_broken, last_broken, lets, state_behind, why
 from counterheld.costs import cheapest, filling_by_cost, potentials
 from counterheld.errors import ScoreError
 from counterheld.extents import highest, lowest, signatures, widest
 from counterheld.gaps import blocked, filling_at, filling_count
-from counterheld.lines import note, note_at, note_count, notes_by_tone
+from counterheld.lines import NoNote, note, note_at, note_count, notes_by_tone
 from counterheld.moments import columns
 from counterheld.papers import paper_of, shows
 from counterheld.refrains import refrain_count
 from counterheld.scores import BadScore, Score
+from counterheld.tempos import column_at_time, column_time
+from counterheld.themes import commonest, kind_count, longest_twice, theme_count, theme_in, theme_of, theme_place
 from tests import plainbooks, plainboxes, plainly
 from tests.checks import Case, within
 
@@ -123,6 +126,45 @@ class Same(Case):
             self.assertTrue(shows(score, book, paper, many))
             self.assertFalse(shows(score, book, paper, many + 1))
         self.check_gaps(chance, scores)
+        self.check_themes(chance, scores, parts)
+        self.check_pieces(chance, scores, book, parts)
+
+    def check_themes(self, chance, scores, parts):
+        voice = chance.randrange(scores[0].voices)
+        for number in (-1, 0, note_count(scores[0], voice) // 2, 10 ** 30):
+            self.agree(scores, theme_of, voice, number, 3)
+        for upside in (False, True):
+            for many in (2, 5):
+                self.agree(scores, kind_count, voice, many, upside)
+                self.agree(scores, commonest, voice, many, upside)
+            self.agree(scores, longest_twice, voice, upside)
+        try:
+            theme = theme_of(scores[0], voice, note_count(scores[0], voice) // 2, 2)
+        except NoNote:
+            theme = (((0, 0), (1, 1)), ((0, 0), (1, 1)))
+        for manner in ((False, False), (True, False), (True, True)):
+            told = scores
+            if not manner[1]:
+                told = [score for score in scores if "TooLong" not in self.told(theme_count, score, voice, theme, manner)]
+            if told:
+                many = theme_count(told[0], voice, theme, manner)
+                self.agree(told, theme_count, voice, theme, manner)
+                for number in (-1, 0, many // 2, many - 1, many):
+                    self.agree(told, theme_place, voice, theme, manner, number)
+                for first, stop in parts:
+                    self.agree(told, theme_in, voice, theme, manner, first, stop)
+
+    def check_pieces(self, chance, scores, book, parts):
+        tempos = (((0, 1), (60, 1)), ((3, 2), (7, 5)))
+        for first, stop in parts:
+            near = min(stop, first + 30)
+            self.agree(scores, column_time, tempos, (7, 3), first)
+            self.agree(scores, column_at_time, tempos, (7, 3), (first + stop, 7))
+            self.agree(scores, ends_of, book, (0,), first, stop)
+            self.agree(scores, ends_of, book, (0, 3), first, near)
+            self.agree(scores, pieces_of, first, (near,), (1, 2))
+            self.agree(scores, turns_of, first, (near,))
+            self.agree(scores, turns_of, first, (stop,))
 
     def check_gaps(self, chance, scores):
         voices = scores[0].voices
