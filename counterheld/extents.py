@@ -4,7 +4,7 @@ from counterheld.folds import Fold
 from counterheld.lines import check_voice
 from counterheld.moments import check_part
 from counterheld.notefolds import changed_tone, voice_below
-from counterheld.reaches import Reach
+from counterheld.reaches import reach_of
 from counterheld.tones import between, height
 
 MOST_SIGNS = 7
@@ -112,10 +112,7 @@ def widest(score, one, other):
 def signatures(score, first, stop):
     """The numbers from -7 to 7 of the signatures whose keys have all tones of a part."""
     check_part(score, first, stop)
-    fold = score.plan.kept("reach")
-    if fold is None:
-        fold = score.plan.keep("reach", Reach(score.plan))
-    reach = fold.of(score.plan.last(), first, stop)
+    reach = reach_of(score).of(score.plan.last(), first, stop)
     told = []
     for s in range(-MOST_SIGNS, MOST_SIGNS + 1):
         if reach is None or (s - 1 <= reach[0][0] and reach[1][0] <= s + 5):

@@ -17,6 +17,8 @@ class Plan:
         self.starts = []
         self.voices = None
         self.folds = {}
+        # The threads in which the columns were woven to be compared.
+        self.threads = None
 
     def last(self):
         return len(self.rules) - 1

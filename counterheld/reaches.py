@@ -37,3 +37,9 @@ class Reach(Fold):
         if rule[0] == "turn":
             return (between(high, rule[2]), between(low, rule[2]))
         return one
+
+
+def reach_of(score):
+    """The reaches of the parts of a score."""
+    fold = score.plan.kept("reach")
+    return score.plan.keep("reach", Reach(score.plan)) if fold is None else fold
