@@ -108,7 +108,7 @@ def bridges_between(one, other):
     knot, shift = threads.of_score(other, plain_view(other.voices))
     told = []
     for sign in (1, -1):
-        for order in permutations(list(range(one.voices))):
+        for order in permutations(range(one.voices)):
             bridge = _bridge_of(pairs, sign, order)
             if bridge is None:
                 continue

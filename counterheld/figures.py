@@ -34,7 +34,7 @@ class Figures:
     def _hand_down(self, told, stretch, sign):
         many, first, second = told[(stretch.number, sign)]
         # Where both directions are of one kind, they need not be told apart.
-        if stretch.rule is not None and stretch.rule[0] == "turn" and not self.upside:
+        if stretch.change is not None and stretch.change[0] == "turn" and not self.upside:
             sign = -sign
         ahead = 0
         for part in stretch.parts:

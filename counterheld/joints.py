@@ -31,7 +31,7 @@ class Joint:
         home, ahead = self._home(number)
         return home.rules[number - ahead]
 
-    def size(self, number):
+    def columns_of(self, number):
         """How many columns the rule makes."""
         home, ahead = self._home(number)
         return home.plan.sizes[number - ahead]

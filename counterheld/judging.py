@@ -14,7 +14,7 @@ class PaperJudge:
     """Judges papers about the columns of a score that a book breaks."""
 
     def __init__(self, score, book):
-        self.score = score
+        self.whole = score
         self.plan = score.plan
         self.steps = book.steps
         self.tables = tables_of(score, book)
@@ -23,8 +23,8 @@ class PaperJudge:
 
     def shown(self, paper):
         """The number of broken columns that a right paper shows."""
-        column = self._column(self.plan.last(), 0, plain_view(self.score.voices))
-        state, broken = self.steps.step(silence(self.score.voices), column)[0]
+        column = self._column(self.plan.last(), 0, plain_view(self.whole.voices))
+        state, broken = self.steps.step(silence(self.whole.voices), column)[0]
         return paper[-1][4][state][1] + int(broken)
 
     def is_right(self, paper):
@@ -34,7 +34,7 @@ class PaperJudge:
         for number, row in enumerate(paper):
             if not self._is_row(row) or not self._is_founded(paper, number):
                 return False
-        return paper[-1][:4] == (self.plan.last(), 0, self.score.count, plain_view(self.score.voices))
+        return paper[-1][:4] == (self.plan.last(), 0, self.whole.count, plain_view(self.whole.voices))
 
     def _is_row(self, row):
         if not isinstance(row, tuple) or len(row) != 6:
@@ -44,7 +44,7 @@ class PaperJudge:
             return False
         if not is_whole(stop, 1, self.plan.sizes[rule]) or not is_whole(first, 0, stop - 1):
             return False
-        if not is_view(view, self.score.voices) or not _is_table(table):
+        if not is_view(view, self.whole.voices) or not _is_table(table):
             return False
         return isinstance(reason, tuple) and len(reason) > 0 and isinstance(reason[0], str)
 

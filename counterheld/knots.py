@@ -1,7 +1,8 @@
 """Knots: numbers for rows of columns, such that rows that are alike but for a shift have the same number.
 
 An item (knot, shift) stands for the row of the knot, shifted. The shift of a row tells the tone that sounds first in
-it, in the first voice that sounds there, and the duration of its first column; if no voice sounds in it, it is unpitched.
+it, in the first voice that sounds there, and the duration of its first column; if no voice sounds in it, the shift has
+the interval (0, 0).
 """
 
 from counterheld.shifts import STILL, both, from_to, often, unpitched
@@ -48,7 +49,7 @@ class Knots:
         """The item of a knot with a shift."""
         return (knot, unpitched(shift)) if self.mutes[knot] else (knot, shift)
 
-    def part(self, item, number):
+    def part_of(self, item, number):
         """The part with a number of a row that is no leaf, as an item."""
         knot, shift = item
         step = self.steps[knot]
@@ -130,7 +131,7 @@ class Knots:
             before = item if many == 1 else self.shifted(item, often(step, many - 1))
         return told
 
-    def starts(self, bunches, before, after, level):
+    def openings(self, bunches, before, after, level):
         """Where the parts of bunches begin that are knotted to one item of the level each; they are spread.
 
         Before and after are the items around, or None at the ends of the row; the first bunch begins a part. Where a
@@ -164,7 +165,7 @@ class Knots:
     def gathered(self, bunches, before, after, level):
         """The bunches, knotted to items of the level, which is one higher, in bunches of one."""
         told = self.spread(bunches)
-        return self.parted(told, self.starts(told, before, after, level), level)
+        return self.parted(told, self.openings(told, before, after, level), level)
 
     def finished(self, bunches, level):
         """The item of a whole row, of bunches that are knotted up to a level."""

@@ -24,8 +24,8 @@ class LikeJudge:
             if not self._is_row(row) or not self._is_founded(paper, number):
                 return False
         one, other = self.joint.ends()
-        many = self.joint.size(one)
-        return many == self.joint.size(other) and paper[-1][:6] == (one, 0, other, 0, many, bridge)
+        many = self.joint.columns_of(one)
+        return many == self.joint.columns_of(other) and paper[-1][:6] == (one, 0, other, 0, many, bridge)
 
     def _is_row(self, row):
         if not isinstance(row, tuple) or len(row) != 7:
@@ -34,7 +34,7 @@ class LikeJudge:
         for number, begin in ((rule, first), (other, second)):
             if not is_whole(number, 0, self.joint.many_rules - 1):
                 return False
-            size = self.joint.size(number)
+            size = self.joint.columns_of(number)
             if not is_whole(many, 1, size) or not is_whole(begin, 0, size - many):
                 return False
         return is_tuple_bridge(bridge, self.voices) and isinstance(reason, tuple) and len(reason) > 0

@@ -26,15 +26,15 @@ class Places:
         self.weave = weave
         self.homes = {}
 
-    def size(self, place):
+    def length_of(self, place):
         """How many columns the knot of a place has."""
         return self.weave.lengths[place[2]]
 
-    def way(self, place):
+    def linking(self, place):
         """The pair of a word for how the place is linked, and of the places that are to be linked before."""
         rule, at, knot, shift, view, step, many = place
         word = self.joint.rule(rule)[0]
-        below = self.joint.below(rule, at, self.size(place) * many)
+        below = self.joint.below(rule, at, self.length_of(place) * many)
         if below is not None:
             item = self.weave.shifted((knot, shift), back(shift_of(self.joint.rule(rule), view)))
             view = view_below(self.joint.rule(rule), view)
@@ -52,12 +52,12 @@ class Places:
         if self.weave.steps[knot] is not None and self.weave.counts_of_parts[knot] > FEW:
             runs = [self.run(place), self.run(home)]
             return "round", runs + [self.nth(run, 0) for run in runs]
-        return "parts", self.parts(place) + self.parts(home)
+        return "parts", self.part_places(place) + self.part_places(home)
 
     def _way_of_run(self, run):
         """The way of a run in which there are ends of what a rule is made of."""
         rule, at, _, _, _, _, many = run
-        size = self.size(run)
+        size = self.length_of(run)
         if self.joint.rule(rule)[0] == "times":
             # Whole copies come again, so it is enough to speak of as many parts as fill one.
             few = -(-self.joint.copy_size(rule) // size) + 1
@@ -79,21 +79,21 @@ class Places:
     def run(self, place):
         """The run of the parts of a place whose knot is a run."""
         rule, at, knot, shift, view, _, _ = place
-        part, shift = self.weave.part((knot, shift), 0)
+        part, shift = self.weave.part_of((knot, shift), 0)
         return (rule, at, part, shift, view, self.weave.steps[knot], self.weave.counts_of_parts[knot])
 
     def nth(self, run, number):
         """The place of the part with the number of a run."""
         rule, at, knot, shift, view, step, _ = run
         knot, shift = self.weave.shifted((knot, shift), often(step, number))
-        return (rule, at + number * self.size(run), knot, shift, view, None, 1)
+        return (rule, at + number * self.length_of(run), knot, shift, view, None, 1)
 
-    def parts(self, place):
+    def part_places(self, place):
         """The places of all parts of a place."""
         rule, at, knot, shift, view, _, _ = place
         told = []
         for number in range(self.weave.counts_of_parts[knot]):
-            part = self.weave.part((knot, shift), number)
+            part = self.weave.part_of((knot, shift), number)
             told.append((rule, at) + part + (view, None, 1))
             at += self.weave.lengths[part[0]]
         return told

@@ -10,8 +10,9 @@ from counterheld.views import plain_view
 class LikeWriter:
     """Writes the rows of a paper about the joint rules of two scores.
 
-    Both scores are woven. Each place that is linked has a row that says that a bridge brings it to the home of its knot;
-    homes have none. A run has a row that says that all its parts but the last one are brought to all but the first one.
+    Both scores are woven. Each place that is linked has a row that says that a bridge brings it to the home of its
+    knot; homes have none. A run has a row that says that a bridge brings all its parts but the last one to all but the
+    first one.
     """
 
     def __init__(self, one, other):
@@ -49,7 +50,7 @@ class LikeWriter:
                 waiting.pop()
                 continue
             if place not in ways:
-                ways[place] = self.places.way(place)
+                ways[place] = self.places.linking(place)
             word, wanted = ways[place]
             lacking = [other for other in wanted if other not in self.linked]
             if lacking:
@@ -75,7 +76,7 @@ class LikeWriter:
             begun = self._settled(self._between(wanted[2], wanted[3]), bridge)
             home = self.places.homes[place[2]]
             reason = ("round", self.linked[wanted[0]], self.linked[wanted[1]], begun)
-            return self._put(place, home, self.places.size(place), bridge, reason)
+            return self._put(place, home, self.places.length_of(place), bridge, reason)
         if word == "period":
             return self._by_period(place, wanted[0], bridge)
         return self._along(wanted, bridge)
@@ -89,7 +90,7 @@ class LikeWriter:
         return self.numbers[row]
 
     def _put_bar(self, place, bridge):
-        many = self.places.size(place)
+        many = self.places.length_of(place)
         if place[5] is None:
             return self._put(place, self.places.homes[place[2]], many, bridge, ("bar",))
         return self._put(place, (place[0], place[1] + many), (place[6] - 1) * many, bridge, ("bar",))
@@ -137,7 +138,7 @@ class LikeWriter:
 
     def _within(self, place, below):
         """A row about a place that lies within what a rule below makes."""
-        size = self.places.size(place)
+        size = self.places.length_of(place)
         if place[5] is None:
             return self._through(self._made(place, below, size), self.linked[below])
         many = (place[6] - 1) * size
@@ -147,7 +148,7 @@ class LikeWriter:
 
     def _in_first_copy(self, place, first):
         """A row about a place that begins in a later copy than the place first, where the same stands."""
-        size = self.places.size(place)
+        size = self.places.length_of(place)
         ahead = first[1] - place[1]
         if place[5] is None:
             return self._through(self._same(place, ahead, size), self.linked[first])
@@ -157,7 +158,7 @@ class LikeWriter:
 
     def _by_period(self, run, begun, bridge):
         """A row about a run in copies, of which the run begun fills one."""
-        size, period = self.places.size(run), self.joint.copy_size(run[0])
+        size, period = self.places.length_of(run), self.joint.copy_size(run[0])
         behind = (run[0], run[1] + size)
         number = self.linked[begun]
         if self.rows[number][4] > period:

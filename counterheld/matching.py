@@ -59,10 +59,10 @@ class Strand:
         knot = item[0]
         many, step = weave.counts_of_parts[knot], weave.steps[knot]
         if step is not None:
-            first = weave.part(item, 0 if self.sign > 0 else many - 1)
+            first = weave.part_of(item, 0 if self.sign > 0 else many - 1)
             self.left.append((first, many, step if self.sign > 0 else back(step)))
             return
-        parts = [(weave.part(item, number), 1, STILL) for number in range(many)]
+        parts = [(weave.part_of(item, number), 1, STILL) for number in range(many)]
         self.left.extend(parts[::-1] if self.sign > 0 else parts)
 
 

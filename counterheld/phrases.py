@@ -25,7 +25,7 @@ class Stretch:
     def __init__(self, number, parts, rule):
         self.number = number
         self.parts = parts
-        self.rule = rule
+        self.change = rule
         # How many notes surely begin in the columns.
         self.notes = 0
         self.head = []

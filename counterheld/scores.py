@@ -48,11 +48,11 @@ def _plan_of(rules):
         if reason is not None:
             raise BadScore(number, reason)
         plan.put(told)
-        if not _is_near(reach.of_rule(number)):
+        if not is_near(reach.of_rule(number)):
             raise BadScore(number, "large")
     return plan
 
 
-def _is_near(reach):
+def is_near(reach):
     """Whether all tones are such as may stand in scores."""
     return reach is None or (is_tone(reach[0]) and is_tone(reach[1]))

@@ -21,10 +21,10 @@ class Search:
         self.stretches = stretches
         self.top = top
         self.theme = theme
-        self.length = theme[0][1]
+        self.unit = theme[0][1]
         self.gaps = [between(one[0], other[0]) for one, other in zip(theme[:-1], theme[1:])]
         self.opposites = [opposite(gap) for gap in self.gaps]
-        n, d = self.length
+        n, d = self.unit
         # The lengths of all notes but the last one, the first one being 1.
         self.shares = [fraction(length[0] * d, length[1] * n) for _, length in theme[:-1]]
         self.way = (0 if upside else 1, None if paced else (1, 1))
@@ -61,7 +61,7 @@ class Search:
         if not (sign >= 0 and gaps == self.gaps) and not (sign <= 0 and gaps == self.opposites):
             return False
         length = stretch.row[at][1]
-        if pace is not None and product(length, pace) != self.length:
+        if pace is not None and product(length, pace) != self.unit:
             return False
         for piece, share in zip(stretch.row[at:], self.shares):
             if piece[1] != product(length, share):
@@ -110,12 +110,12 @@ class Search:
 
 def way_of_part(stretch, way):
     """The way in which the parts of a stretch come, when the stretch comes in a way."""
-    if stretch.rule is None:
+    if stretch.change is None:
         return way
     sign, pace = way
-    if stretch.rule[0] == "turn":
+    if stretch.change[0] == "turn":
         sign = -sign
-    return (sign, None if pace is None else product(pace, pace_of(stretch.rule)))
+    return (sign, None if pace is None else product(pace, pace_of(stretch.change)))
 
 
 def search_of(score, voice, theme, manner):

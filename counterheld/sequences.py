@@ -24,7 +24,7 @@ class Part:
         self.size = stop - first
 
     def shift(self, many):
-        """The interval and the pace by which the columns from so many on would be what the part is from its first on."""
+        """The interval and the pace by which the part would be a sequence of so many columns."""
         if many == self.size:
             return UNISON, SAME
         place = self.first + many
@@ -40,7 +40,7 @@ class Part:
         return interval_at(self.weave, self.row, at, self.row, at + many)
 
     def is_sequence(self, many, interval, by):
-        """Whether the part is a sequence of so many columns, a divisor of how many it has, by an interval and a pace."""
+        """Whether the part is a sequence of so many columns by an interval and a pace."""
         row = self.weave.shifted(self.row, interval + by)
         one, other = Strand(self.weave, row, self.first, 1), Strand(self.weave, self.row, self.first + many, 1)
         return matched(one, other) >= self.size - many

@@ -27,6 +27,15 @@ class Tables(Marks):
     def of_copies(self, number, first, stop, way, many):
         return self.by_halves(number, first, stop, way, many)
 
+    def many_times(self, one, many):
+        told = None
+        while many > 0:
+            if many % 2 == 1:
+                told = one if told is None else self.joined(told, one)
+            one = self.joined(one, one)
+            many = many // 2
+        return told
+
     def way_below(self, rule, way):
         return view_below(rule, way)
 

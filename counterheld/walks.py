@@ -24,7 +24,7 @@ class Walk:
     def _go_into(self, number, ahead):
         """Goes into the part with the number, ahead of which there are so many columns of the item."""
         self.way.append((self.item, number, self.begin))
-        self.item = self.knots.part(self.item, number)
+        self.item = self.knots.part_of(self.item, number)
         self.begin += ahead
 
     def end(self):
@@ -58,7 +58,7 @@ class Walk:
     def _go_back_into(self, number, end):
         """Goes into the part with the number, which ends behind so many columns."""
         self.way.append((self.item, number, self.begin))
-        self.item = self.knots.part(self.item, number)
+        self.item = self.knots.part_of(self.item, number)
         self.begin = end - self.knots.lengths[self.item[0]]
 
     def _is_inner(self, level):
@@ -101,7 +101,7 @@ class Walk:
         return number == self.knots.counts_of_parts[item[0]] - 1
 
     def bunch(self, level, end):
-        """The bunch of this item, with what follows it in a run of the level, ahead of the column end; goes on behind."""
+        """The bunch of this item and those behind in a run of the level, ahead of the column end; goes on behind it."""
         told = (self.item, 1, STILL)
         if level % 2 == 1 and self._is_inner(level):
             run, number, _ = self.way[-1]
@@ -116,7 +116,7 @@ class Walk:
         return told
 
     def _bunch_back(self, level, first):
-        """The bunch of this item, with what is ahead of it in a run of the level, from the column first on; goes back."""
+        """The bunch of this item and those ahead in a run of the level, from the column first on; goes back."""
         told = (self.item, 1, STILL)
         if level % 2 == 1 and self._is_inner(level):
             run, number, _ = self.way[-1]
@@ -134,5 +134,5 @@ class Walk:
         """Goes to the part with the number of the run in which the item is, so many columns on."""
         run, _, begin = self.way.pop()
         self.way.append((run, number, begin))
-        self.item = self.knots.part(run, number)
+        self.item = self.knots.part_of(run, number)
         self.begin += ahead

@@ -17,16 +17,16 @@ class Weave(Knots):
 
     def __init__(self):
         Knots.__init__(self)
-        self.kept = {}
+        self.known = {}
 
     def joined(self, one, other):
         """The row one with the row other behind it."""
         base = self._base(one, other)
         # What is kept of rows serves all that are shifted alike.
         key = (self.placed(one[0], from_to(base, one[1])), self.placed(other[0], from_to(base, other[1])))
-        if key not in self.kept:
-            self.kept[key] = self.shifted(self._joined(one, other), back(base))
-        return self.shifted(self.kept[key], base)
+        if key not in self.known:
+            self.known[key] = self.shifted(self._joined(one, other), back(base))
+        return self.shifted(self.known[key], base)
 
     def _base(self, one, other):
         """The shift from which those of two rows, and of both together, are told."""
@@ -50,9 +50,9 @@ class Weave(Knots):
     def cut(self, whole, first, stop):
         """The columns of a row from first up to, but without, stop."""
         key = ("cut", whole[0], first, stop)
-        if key not in self.kept:
-            self.kept[key] = self.shifted(self._cut(whole, first, stop), back(whole[1]))
-        return self.shifted(self.kept[key], whole[1])
+        if key not in self.known:
+            self.known[key] = self.shifted(self._cut(whole, first, stop), back(whole[1]))
+        return self.shifted(self.known[key], whole[1])
 
     def _cut(self, whole, first, stop):
         left = Walk(self, whole, first, 0)
@@ -77,9 +77,9 @@ class Weave(Knots):
         if many == 1:
             return one
         key = ("times", one[0], many)
-        if key not in self.kept:
-            self.kept[key] = self.shifted(self._many_times(one, many), back(one[1]))
-        return self.shifted(self.kept[key], one[1])
+        if key not in self.known:
+            self.known[key] = self.shifted(self._many_times(one, many), back(one[1]))
+        return self.shifted(self.known[key], one[1])
 
     def _many_times(self, one, many):
         left = Walk(self, one, 0, 0)
@@ -110,12 +110,12 @@ class Weave(Knots):
         return told
 
     def _repeated(self, head, word, many, tail, level):
-        """The item of the head, the word so many times over, and the tail, in bunches that are knotted up to a level."""
+        """The item of a head, a word so many times over, and a tail, in bunches that are knotted up to a level."""
         while many > FEW:
             level += 1
             head, word, tail = self.spread(head), self.spread(word), self.spread(tail)
             told = head + word * FEW + tail
-            starts = self.starts(told, None, None, level)
+            starts = self.openings(told, None, None, level)
             # From the third copy on to the last but one the copies are knotted alike.
             third = len(head) + 2 * len(word)
             inner = [one for one in starts if third <= one < third + len(word)]

@@ -2,10 +2,12 @@
 
 import ast
 import importlib
+import inspect
 import re
 import unittest
 from pathlib import Path
 
+from counterheld.bench import BenchError
 from counterheld.errors import ScoreError
 
 FOLDER = Path(__file__).resolve().parent.parent / "counterheld"
@@ -13,6 +15,7 @@ FILES = sorted(FOLDER.glob("*.py"))
 LIBRARY = {
     "heapq": {"heappush", "heappop", "heapify", "heapreplace", "heappushpop"},
     "math": {"gcd", "lcm", "isqrt", "comb", "perm", "factorial"},
+    "itertools": {"permutations"},
 }
 BUILTINS = set(
     "len range enumerate zip min max sum abs sorted reversed int str bool list tuple dict set isinstance ord repr any all "
@@ -66,6 +69,16 @@ INTERFACE = {
         "shows_lines", "ends_of", "pieces_of", "turns_of",
     ],
     "pages": ["BadTurns", "best_pages", "page_potentials", "shows_pages"],
+    "bench": [
+        "BenchError", "BadWord", "NoLine", "NoBook", "NoRoom", "InUse", "Circle", "NothingLeft", "BadLine", "Bench", "BadEntry",
+        "rebuilt",
+    ],
+    "bridges": ["BadBridge", "check_bridge", "put_behind", "opposite_bridge", "brought"],
+    "alike": [
+        "alike_for", "alike_back", "alike", "difference_at", "first_difference", "bridges_between", "follows",
+    ],
+    "sequences": ["sequence", "repeated"],
+    "likeness": ["likeness_paper", "shows_alike"],
 }
 ARGUMENTS = {
     "steps": "interval", "height": "interval", "added": "one other", "opposite": "interval", "between": "one other",
@@ -101,7 +114,22 @@ ARGUMENTS = {
     "breaking_count": "pieces room", "breaking_at": "pieces room index", "breaking_index": "pieces room ends",
     "line_potentials": "pieces room", "shows_lines": "pieces room told total", "ends_of": "score book states first stop",
     "pieces_of": "score first ends base", "turns_of": "score first ends", "best_pages": "pieces room turns least most",
-    "page_potentials": "pieces room turns least most", "shows_pages": "pieces room turns least most told total",
+    "page_potentials": "pieces room turns least most", "shows_pages": "pieces room turns least most told total", "rebuilt": "journal",
+    "check_bridge": "bridge voices",
+    "put_behind": "one other", "opposite_bridge": "bridge", "brought": "columns bridge",
+    "alike_for": "one first other second bridge", "alike_back": "one stop other end bridge", "alike": "one other",
+    "difference_at": "one other index", "first_difference": "one other", "bridges_between": "one other",
+    "follows": "score leader follower distance", "sequence": "score first stop", "repeated": "score first stop",
+    "likeness_paper": "one other bridge", "shows_alike": "one other bridge paper",
+}
+METHODS_OF_CLASSES = {
+    "scores.Score": {"counts": ""},
+    "bench.Bench": {
+        "set_line": "name rule", "take_line": "name", "exchange": "one other", "set_book": "name book", "take_book": "name",
+        "undo": "", "redo": "", "journal": "", "lines": "", "books": "", "rule": "name", "book": "name", "leads_to": "name",
+        "voices_of": "name", "length": "name", "duration_of": "name", "score": "name", "broken_count": "name book",
+        "first_broken": "name book", "work": "",
+    },
 }
 
 
@@ -284,14 +312,18 @@ class Interface(unittest.TestCase):
     def test_names_of_errors(self):
         for module, names in INTERFACE.items():
             for name in names:
-                if name[:1].isupper() and name not in ("Score", "Book", "ScoreError"):
+                if name[:1].isupper() and name not in ("Score", "Book", "Bench", "ScoreError"):
                     error = getattr(importlib.import_module(f"counterheld.{module}"), name)
-                    self.assertEqual((ScoreError,), error.__bases__)
+                    under = BenchError if module == "bench" and name not in ("BenchError", "BadEntry") else ScoreError
+                    self.assertEqual((under,), error.__bases__)
+        self.assertEqual((ValueError,), ScoreError.__bases__)
 
     def test_methods_stand_in_the_class(self):
-        from counterheld.scores import Score
-
-        self.assertIn("counts", vars(Score))
+        for place, methods in METHODS_OF_CLASSES.items():
+            module, name = place.split(".")
+            told = vars(getattr(importlib.import_module(f"counterheld.{module}"), name))
+            for method, arguments in methods.items():
+                self.assertEqual(["self"] + arguments.split(), list(inspect.signature(told[method]).parameters))
 
 
 if __name__ == "__main__":
