@@ -71,6 +71,7 @@ class Bench:
 
     def __init__(self):
         # The pair of all lines and all books behind each number of edits, and the edits; done tells how many are done.
+        # Scores that were made of lines are kept as long as nothing changes on which they hang.
         self.stages = [({}, {})]
         self.edits = []
         self.done = 0
@@ -88,8 +89,11 @@ class Bench:
         self.stages = self.stages[:self.done + 1] + [(lines, books)]
         self.edits = self.edits[:self.done] + [edit]
         self.done += 1
-        # Scores are made anew when they are asked for.
-        self.made = {}
+
+    def _drop_lines(self, names):
+        """Drops what hangs on lines that are set or taken away: these are some of them, and all that lead to them."""
+        self.reckoner.drop_lines(names)
+        self.made = {name: self.made[name] for name in self.made if name not in names}
 
     def _check_line(self, name):
         if not isinstance(name, str) or name not in self._lines():
@@ -115,7 +119,7 @@ class Bench:
         if reason is not None:
             raise BadLine(wrong, reason)
         following[name] = right
-        self.reckoner.drop_lines(leading(following, [name]))
+        self._drop_lines(leading(following, [name]))
         self._do(("set line", name, right), following, self._books())
 
     def take_line(self, name):
@@ -124,7 +128,7 @@ class Bench:
         for other in sorted(lines):
             if name in named(lines[other]):
                 raise InUse(other)
-        self.reckoner.drop_lines({name: True})
+        self._drop_lines({name: True})
         self._do(("take line", name), {other: lines[other] for other in lines if other != name}, self._books())
 
     def exchange(self, one, other):
@@ -134,6 +138,8 @@ class Bench:
         names = {name: name for name in lines}
         names[one], names[other] = other, one
         self.reckoner.rename(names)
+        # The lines to which a line leads may stand in another order now.
+        self.made = {}
         following = {names[name]: with_names(lines[name], names) for name in lines}
         self._do(("exchange", one, other), following, self._books())
 
@@ -169,14 +175,13 @@ class Bench:
         lines, books = self.stages[self.done]
         lines_there, books_there = self.stages[done]
         changed = unlike(lines, lines_there)
-        self.reckoner.drop_lines(leading(lines, changed))
-        self.reckoner.drop_lines(leading(lines_there, changed))
+        self._drop_lines(leading(lines, changed))
+        self._drop_lines(leading(lines_there, changed))
         said = {name: (book.tests, book.states) for name, book in books.items()}
         said_there = {name: (book.tests, book.states) for name, book in books_there.items()}
         for name in unlike(said, said_there):
             self.reckoner.drop_book(name)
         self.done = done
-        self.made = {}
 
     def journal(self):
         """The edits that are done."""

@@ -1,7 +1,7 @@
 """Fillings of gaps by what their bars cost."""
 
 from counterheld.fillings import is_shown
-from counterheld.gaps import BadGap, Filled
+from counterheld.gaps import BadGap, filled_of
 from counterheld.kinds import is_number, is_row, is_whole
 from counterheld.ranking import Ranking, least_costs
 
@@ -10,7 +10,7 @@ MOST_COST = 10 ** 9
 
 def _filled(gap, book, costs):
     """The gap with a book; raises for the costs behind all else."""
-    filled = Filled(gap, book)
+    filled = filled_of(gap, book)
     if not is_row(costs) or len(costs) != len(filled.bars):
         raise BadGap("costs")
     if not all([is_whole(cost, 0, MOST_COST) for cost in costs]):
@@ -26,11 +26,13 @@ def cheapest(gap, book, costs):
 def filling_by_cost(gap, book, costs, index):
     """The pair (cost, filling) with this index among all fillings by their costs, or None."""
     filled = _filled(gap, book, costs)
-    rows, number = filled.graph.rows, filled.number
-    least = least_costs(rows, filled.fitting, number, costs)
-    if index < 0 or least[number][0] is None:
+    ranking = filled.ranking
+    if ranking is None or ranking.costs != tuple(costs) or ranking.is_long():
+        ranking = Ranking(filled.rows, tuple(costs), least_costs(filled.rows, filled.ends, filled.number, costs))
+        filled.ranking = ranking
+    if index < 0 or ranking.least[filled.number][filled.first] is None:
         return None
-    return Ranking(rows, costs, least).word((number, 0), index)
+    return ranking.word((filled.number, filled.first), index)
 
 
 def potentials(gap, book, costs):

@@ -2,7 +2,6 @@
 
 from counterheld.goings import end_of, goings_of, with_bars
 from counterheld.kinds import is_number, is_whole
-from counterheld.moments import column
 from counterheld.tables import behind, tables_of
 from counterheld.views import plain_view
 
@@ -17,9 +16,13 @@ class Bridging:
         self.goings = goings_of(book, bars)
         self.bars = bars
         self.states = len(book.states)
-        self.ahead_column = column(ahead, ahead.count - 1)
+        _, self.ahead_column, _ = tables_of(ahead, book).of_score(plain_view(ahead.voices))
         self.start = (None, behind(ahead, book, ahead.count)[0])
         self.after_column, _, self.after_table = tables_of(after, book).of_score(plain_view(after.voices))
+
+    def key(self, number):
+        """What is the same for just those scores, boxes and numbers of bars between which a book goes alike."""
+        return (self.start, self.ahead_column, self.bars, number, self.after_column, self.after_table)
 
     def places_behind(self, place):
         """For each bar of the box the place behind a place, or None."""

@@ -18,7 +18,7 @@ class Joint:
         self.many_rules = len(one.rules) + len(other.rules)
         self.plain = plain_bridge(one.voices)
 
-    def ends(self):
+    def last_rules(self):
         """The numbers of the last rules of both scores."""
         return self.first_many - 1, self.many_rules - 1
 

@@ -23,7 +23,7 @@ class LikeJudge:
         for number, row in enumerate(paper):
             if not self._is_row(row) or not self._is_founded(paper, number):
                 return False
-        one, other = self.joint.ends()
+        one, other = self.joint.last_rules()
         many = self.joint.columns_of(one)
         return many == self.joint.columns_of(other) and paper[-1][:6] == (one, 0, other, 0, many, bridge)
 

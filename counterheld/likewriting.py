@@ -32,7 +32,7 @@ class LikeWriter:
         item_again = self.threads.of_score(other, view)
         if self.threads.weave.shifted(item, bridge[2] + bridge[3]) != item_again:
             return None
-        last, last_again = self.joint.ends()
+        last, last_again = self.joint.last_rules()
         place = (last, 0) + item + (bridge[:2], None, 1)
         place_again = (last_again, 0) + item_again + (view, None, 1)
         self._link(place)

@@ -3,7 +3,7 @@
 from counterheld.boxes import checked_box, word_graph
 from counterheld.goings import goings_of
 from counterheld.kinds import is_whole
-from counterheld.ways import Graph, Ways
+from counterheld.ways import Graph, Ways, kinds_of, row_of_kinds
 
 # The triple ahead of the first bar.
 BEGINNING = (None, 0, 0)
@@ -74,31 +74,11 @@ def _is_triple(thing, bars, one, other):
 def machine(box, book):
     """The machine of a book."""
     rows = word_graph(checked_box(box), book).rows
-    kinds = _kinds(rows)
+    kinds = kinds_of(rows, [0] * len(rows), len(rows))
     # Any node of a kind may stand for it.
     node_of = {kind: node for node, kind in enumerate(kinds)}
-    graph = Graph([kinds[0]], lambda kind: _of_row(kinds, rows[node_of[kind]]))
+    graph = Graph([kinds[0]], lambda kind: row_of_kinds(kinds, rows[node_of[kind]]))
     return tuple(graph.rows)
-
-
-def _kinds(rows):
-    """For each node a number; nodes have the same number if the same words lead on from them."""
-    kinds, many = [0] * len(rows), 1
-    while True:
-        numbers = {}
-        told = []
-        for row in rows:
-            key = _of_row(kinds, row)
-            if key not in numbers:
-                numbers[key] = len(numbers)
-            told.append(numbers[key])
-        if len(numbers) == many:
-            return told
-        kinds, many = told, len(numbers)
-
-
-def _of_row(kinds, row):
-    return tuple([None if node is None else kinds[node] for node in row])
 
 
 def _apart(box, one, other):

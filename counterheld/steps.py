@@ -23,6 +23,8 @@ class Steps:
         self.rows = {}
         self.moves = {}
         self.goings = None
+        # What is known of the gaps that were last asked about.
+        self.fillings = {}
 
     def held(self, one, other):
         """The numbers of the tests that hold of a move, ascending."""

@@ -5,7 +5,7 @@ from counterheld.plans import pace_of
 from counterheld.weaving import Weave
 
 # The most knots with which a weave is still used.
-MOST_KNOTS = 150000
+MOST_KNOTS = 60000
 
 
 class Threads:

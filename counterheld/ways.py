@@ -94,3 +94,28 @@ class Ways:
             if node is None:
                 return None
         return told if self.level(0)[node] > 0 else None
+
+
+def kinds_of(rows, ends, most):
+    """For each node a number; nodes have the same number if the same words lead on from them, and to the same ends.
+
+    None if after so many rounds as most it is not known yet. The numbers are from 0 on, without gaps.
+    """
+    kinds, many = ends, len(set(ends))
+    for _ in range(most + 1):
+        numbers = {}
+        told = []
+        for kind, row in zip(kinds, rows):
+            key = (kind, row_of_kinds(kinds, row))
+            if key not in numbers:
+                numbers[key] = len(numbers)
+            told.append(numbers[key])
+        if len(numbers) == many:
+            return told
+        kinds, many = told, len(numbers)
+    return None
+
+
+def row_of_kinds(kinds, row):
+    """The row with the kinds of its nodes in their place."""
+    return tuple([None if node is None else kinds[node] for node in row])

@@ -276,7 +276,7 @@ class Language(unittest.TestCase):
                     self.assertIn(around, ("sorted", "len"), place)
                 if called in once or re.search(r"[.](items|keys|values)$", called):
                     if not isinstance(parent, (ast.For, ast.comprehension)):
-                        self.assertIn(around, ("tuple", "list", "enumerate", "zip", "sorted", "reversed"), place)
+                        self.assertIn(around, ("tuple", "list", "enumerate", "zip", "sorted", "reversed", "permutations"), place)
 
     def test_calls(self):
         own = set()

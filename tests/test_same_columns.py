@@ -1,8 +1,9 @@
-"""Promise [0.2]: scores with the same columns by other rules tell the same, for parts D to G and I to L."""
+"""Promise [0.2]: scores with the same columns by other rules tell the same, for all parts with scores."""
 
 import random
 import unittest
 
+from counterheld.alike import alike, alike_back, alike_for, bridges_between, difference_at, first_difference, follows
 from counterheld.books import Book
 from counterheld.breaking import ends_of, pieces_of, turns_of
 from counterheld.broken import broken, broken_count, broken_in, first_broken, last_broken, lets, state_behind, why
@@ -10,11 +11,13 @@ from counterheld.costs import cheapest, filling_by_cost, potentials
 from counterheld.errors import ScoreError
 from counterheld.extents import highest, lowest, signatures, widest
 from counterheld.gaps import blocked, filling_at, filling_count
+from counterheld.likeness import likeness_paper, shows_alike
 from counterheld.lines import NoNote, note, note_at, note_count, notes_by_tone
-from counterheld.moments import columns
+from counterheld.moments import column, column_at, columns, grid, moment_of, written
 from counterheld.papers import paper_of, shows
 from counterheld.refrains import refrain_count
 from counterheld.scores import BadScore, Score
+from counterheld.sequences import repeated, sequence
 from counterheld.tempos import column_at_time, column_time
 from counterheld.themes import commonest, kind_count, longest_twice, theme_count, theme_in, theme_of, theme_place
 from tests import plainbooks, plainboxes, plainly
@@ -127,6 +130,13 @@ class Same(Case):
             self.assertFalse(shows(score, book, paper, many + 1))
         self.check_gaps(chance, scores)
         self.check_themes(chance, scores, parts)
+        self.check_likeness(chance, scores, parts)
+        for number in (-1, 0, count // 3, count):
+            self.agree(scores, column, number)
+            self.agree(scores, moment_of, number)
+            self.agree(scores, column_at, (number, 3))
+        self.agree(scores, written)
+        self.agree(scores, grid)
         self.check_pieces(chance, scores, book, parts)
 
     def check_themes(self, chance, scores, parts):
@@ -153,6 +163,32 @@ class Same(Case):
                     self.agree(told, theme_place, voice, theme, manner, number)
                 for first, stop in parts:
                     self.agree(told, theme_in, voice, theme, manner, first, stop)
+
+    def check_likeness(self, chance, scores, parts):
+        count, voices = scores[0].count, scores[0].voices
+        rules = scores[-1].rules[:59]
+        changed = Score(rules + (("pace", len(rules) - 1, (1, 2)),))
+        bridge = (-1, tuple(range(voices))[::-1], (0, 1), (1, 1))
+        for other in (scores[0], changed):
+            for told in (bridge, (1,) + (tuple(range(voices)), (0, 0), (1, 1))):
+                for first in (-1, 0, count // 3):
+                    self.agree(scores, alike_for, first, other, other.count // 5, told)
+                    self.agree(scores, alike_back, first + 1, other, other.count // 5 + 1, told)
+                    self.agree(scores, lambda score: alike_for(other, other.count // 5, score, first, told))
+            self.agree(scores, alike, other)
+            self.agree(scores, first_difference, other)
+            self.agree(scores, lambda score: difference_at(other, score, 7))
+            self.agree(scores, bridges_between, other)
+            self.agree(scores, lambda score: bridges_between(other, score))
+        for first, stop in parts:
+            self.agree(scores, sequence, first, stop)
+            self.agree(scores, repeated, first, stop)
+        for distance in (0, 1, count // 2, count):
+            self.agree(scores, follows, chance.randrange(voices), chance.randrange(voices), distance)
+        plain = (1, tuple(range(voices)), (0, 0), (1, 1))
+        for score in scores[1:]:
+            self.assertEqual("True", self.told(alike, scores[0], score))
+            self.assertEqual("True", self.told(shows_alike, scores[0], score, plain, likeness_paper(scores[0], score, plain)))
 
     def check_pieces(self, chance, scores, book, parts):
         tempos = (((0, 1), (60, 1)), ((3, 2), (7, 5)))
