@@ -153,7 +153,7 @@ class Knots:
         if level % 2 == 0:
             return self.block([item for item, _, _ in bunches], level)
         first = bunches[0][0]
-        many = sum([often_told for _, often_told, _ in bunches])
+        many = sum([repeats for _, repeats, _ in bunches])
         step = STILL if len(bunches) == 1 else self.step(first, bunches[1][0])
         return self.run(first, bunches[0][2] if bunches[0][1] > 1 else step, many, level)
 

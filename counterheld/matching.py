@@ -21,10 +21,10 @@ class Strand:
     def pass_over(self, many):
         """Passes so many columns."""
         while many > 0:
-            item, often_told, _ = self.left[-1]
+            item, repeats, _ = self.left[-1]
             whole = many // self.weave.lengths[item[0]]
             if whole > 0:
-                whole = min(whole, often_told)
+                whole = min(whole, repeats)
                 self.drop(whole)
                 many -= whole * self.weave.lengths[item[0]]
             else:
@@ -46,14 +46,14 @@ class Strand:
 
     def drop(self, many):
         """Passes the next item so many times."""
-        (knot, shift), often_told, step = self.left.pop()
-        if many < often_told:
+        (knot, shift), repeats, step = self.left.pop()
+        if many < repeats:
             item = self.weave.placed(knot, both(shift, often(step, many)))
-            self.left.append((item, often_told - many, step))
+            self.left.append((item, repeats - many, step))
 
     def untie(self):
         """Puts the parts of the next item in its place."""
-        item, often_told, _ = self.left[-1]
+        item, repeats, _ = self.left[-1]
         self.drop(1)
         weave = self.weave
         knot = item[0]

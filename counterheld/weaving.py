@@ -121,9 +121,9 @@ class Weave(Knots):
             inner = [one for one in starts if third <= one < third + len(word)]
             if not inner:
                 # They are all the same item, in one run.
-                item, often_told, _ = told[third]
+                item, repeats, _ = told[third]
                 more = (many - FEW) * sum([bunch[1] for bunch in word])
-                told[third] = (item, often_told + more, STILL)
+                told[third] = (item, repeats + more, STILL)
                 return self.finished(self.parted(told, starts, level), level)
             first, stop = inner[0], inner[0] + len(word)
             head = self.parted(told[:first], [one for one in starts if one < first], level)

@@ -12,6 +12,7 @@ from tests import plainlikeness, plainly
 from tests.checks import Case, within
 from tests.plainlikeness import brought_rules, some_bridge, some_columns, some_rules, uneven_rules
 from tests.plainpapers import deep
+from tests.plainsums import Sums
 from tests.test_same_columns import others
 
 NO_VOICES = (-1, 4, 10 ** 30, True, False, None, "0", "", (), [0], {}, (0,))
@@ -174,6 +175,42 @@ class ManyColumns(Case):
                     second = (first + chance.choice(counts)) % score.count
                 self.check_for(score, first, score, second, bridge)
                 self.check_back(score, first + 1, score, second + 1, bridge)
+
+    def test_against_sums(self):
+        """Whole parts, however long they are alike, in scores whose rules lie within one another in all ways."""
+        chance = random.Random(321)
+        longest = 0
+        for number in range(24):
+            bar = some_columns(chance, chance.randint(1, 4), chance.randint(1, 3), silent=chance.choice((0, 0.2, 0.8)))
+            rules = [("bar", bar), ("bar", bar[:1])]
+            if number % 3 == 0:
+                while len(rules) < 50:
+                    rules.append(("then", len(rules) - 1, len(rules) - 2))
+            elif number % 3 == 1:
+                for k in range(25):
+                    change = (("raise", (1, 0)), ("pace", (2, 3)), ("turn", (1, 8)), ("raise", (-1, 1)))[k % 4]
+                    rules += [(change[0], len(rules) - 1, change[1]), ("then", len(rules) - 1, len(rules))]
+            else:
+                rules = uneven_rules(chance, bar, 50)
+            one = Score(rules)
+            other = chance.choice(others(chance, one.rules) or [one])
+            sums, sums_other = Sums(one), Sums(other)
+            for _ in range(15):
+                plain = (1, tuple(range(one.voices)), (0, 0), (1, 1))
+                bridge = chance.choice((plain, plain, some_bridge(chance, one.voices)))
+                first = chance.randrange(one.count)
+                second = chance.choice((first, chance.randrange(one.count), (first + chance.choice(one.counts())) % one.count))
+                told = alike_for(one, first, other, second, bridge)
+                if told > 0:
+                    self.assertEqual(sums.brought(sums.part(first, first + told), bridge), sums_other.part(second, second + told))
+                self.check_for(one, first, other, second, bridge)
+                longest = max(longest, told)
+                told = alike_back(one, first + 1, other, second + 1, bridge)
+                if told > 0:
+                    brought = sums.brought(sums.part(first + 1 - told, first + 1), bridge)
+                    self.assertEqual(brought, sums_other.part(second + 1 - told, second + 1))
+                self.check_back(one, first + 1, other, second + 1, bridge)
+        self.assertGreater(longest, 10 ** 9)
 
     def test_other_rules_and_changed_columns(self):
         chance = random.Random(315)

@@ -3,6 +3,7 @@
 import random
 import unittest
 
+from counterheld.bartexts import read_bar
 from counterheld.moments import NoColumn, columns
 from counterheld.primes import primes_of
 from counterheld.scores import Score
@@ -78,6 +79,16 @@ class FewColumns(Case):
         late = Score((("bar", bar[:1] * 3 + (((1, 4), 0, (None, ((0, 4), True))),)),))
         self.assert_answer((4, (0, 0), (1, 1)), sequence, late, 0, 4)
         self.assert_answer((1, (0, 0), (1, 1)), sequence, late, 0, 3)
+
+
+class Example(Case):
+    """The line of the example at the end of the document, to the letter."""
+
+    def test_line(self):
+        bar = read_bar("1/4 C4 C3 | 1/8!1 E4 ~C3")
+        score = Score((("bar", bar), ("raise", 0, (1, 0)), ("then", 0, 1), ("times", 2, 3), ("turn", 3, (0, 8))))
+        told = sequence(score, 0, 4), sequence(score, 0, 12), repeated(score, 0, 4)
+        self.assertEqual("((2, (-1, 0), (1, 1)), (4, (0, 0), (1, 1)), 4)", repr(told))
 
 
 class ManyColumns(Case):
