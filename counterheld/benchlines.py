@@ -69,11 +69,12 @@ def leading(lines, names):
 
 def ordered(lines, names):
     """Some lines in their order: each behind those that it names, and the first such order by names."""
-    lacking = {name: len([other for other in named(lines[name]) if other in names]) for name in names}
+    lacking = {name: 0 for name in names}
     naming = {name: [] for name in names}
     for name in names:
         for other in named(lines[name]):
             if other in names:
+                lacking[name] += 1
                 naming[other].append(name)
     ready = [name for name in names if lacking[name] == 0]
     heapify(ready)
